@@ -1,0 +1,1 @@
+"""Sure texts: what stands in every ring of text that explains torn readings."""

@@ -1,0 +1,142 @@
+"""The rules of the language that can be read off the files of the package."""
+
+import ast
+import builtins
+import pathlib
+import re
+import unittest
+
+PACKAGE = pathlib.Path(__file__).parent.parent / "suretexts"
+PATHS = sorted(path for path in PACKAGE.iterdir() if path.name != "__pycache__")
+TREES = {path.stem: ast.parse(path.read_text()) for path in PATHS}
+
+BUILTINS = (
+    "len range enumerate zip min max sum abs sorted reversed int str bool list tuple dict set isinstance ord repr any "
+    "all divmod ValueError LookupError RuntimeError ArithmeticError").split()
+METHODS = (
+    "append copy count endswith extend find get index insert isdigit items join keys pop remove replace reverse "
+    "setdefault split startswith strip values").split()
+SPECIAL = ["__init__", "__eq__"]
+STATEMENTS = (
+    ast.Assign, ast.AugAssign, ast.If, ast.While, ast.For, ast.Return, ast.Break, ast.Continue, ast.Pass, ast.Raise,
+    ast.Expr, ast.FunctionDef, ast.ClassDef, ast.ImportFrom)
+EXPRESSIONS_LEFT_OUT = (
+    ast.GeneratorExp, ast.Lambda, ast.NamedExpr, ast.Yield, ast.YieldFrom, ast.Await, ast.Div, ast.Pow, ast.Set)
+BARRED_WORDS = re.compile(
+    r"\b(type|typing|enum|Enum|Flag|Generic|Protocol|ABC|namedtuple|NamedTuple|register|mro|elements|open|input|law)\b"
+    r"|dataclass|overload|contextmanager|_wall|_WallAttr")
+
+
+def defined(tree):
+    """The names that a file gives at module level, but for its imports."""
+    names = [node.name for node in tree.body if isinstance(node, (ast.FunctionDef, ast.ClassDef))]
+    return names + [node.targets[0].id for node in tree.body if isinstance(node, ast.Assign)]
+
+
+def imports(tree):
+    return [node for node in tree.body if isinstance(node, ast.ImportFrom)]
+
+
+def without_docstrings(tree):
+    for node in ast.walk(tree):
+        if isinstance(node, (ast.Module, ast.ClassDef, ast.FunctionDef)) and ast.get_docstring(node) is not None:
+            node.body = node.body[1:]
+    return tree
+
+
+class Language(unittest.TestCase):
+    def each_node(self, *kinds):
+        for name, tree in TREES.items():
+            for node in ast.walk(tree):
+                if isinstance(node, kinds):
+                    with self.subTest(file=name, line=getattr(node, "lineno", 0)):
+                        yield node
+
+    def test_files(self):
+        self.assertIn("__init__", TREES)
+        for path in PATHS:
+            self.assertRegex(path.name, r"^[a-z_]+\.py$")
+            text = path.read_text()
+            self.assertRegex(text, r"\A[ -~\n]*\Z")
+            lines = text.split("\n")
+            self.assertLess(len(lines), 400)
+            self.assertLessEqual(max(len(line) for line in lines), 120)
+            self.assertEqual([line for line in lines if line != line.rstrip()], [])
+
+    def test_functions_are_small(self):
+        for node in self.each_node(ast.FunctionDef):
+            self.assertLessEqual(node.end_lineno - node.lineno + 1, 40)
+
+    def test_imports(self):
+        order = {}
+        for name, tree in TREES.items():
+            order[name] = []
+            for node in imports(tree):
+                package, _, file = node.module.partition(".")
+                self.assertEqual((package, node.level), ("suretexts", 0))
+                order[name].append(file)
+                for alias in node.names:
+                    self.assertIsNone(alias.asname)
+                    self.assertIn(alias.name, defined(TREES[file]))
+        while order:
+            free = [name for name, needed in order.items() if not any(file in order for file in needed)]
+            self.assertNotEqual(free, [])
+            for name in free:
+                del order[name]
+
+    def test_module_level(self):
+        for tree in TREES.values():
+            for node in tree.body:
+                self.assertIsInstance(node, (ast.Expr, ast.ImportFrom, ast.FunctionDef, ast.ClassDef, ast.Assign))
+                if isinstance(node, (ast.Expr, ast.Assign)):
+                    self.assertIsInstance(node.value, ast.Constant)
+            names = defined(tree) + [alias.name for node in imports(tree) for alias in node.names]
+            self.assertEqual(len(names), len(set(names)))
+
+    def test_statements_and_expressions(self):
+        for node in self.each_node(ast.stmt):
+            self.assertIsInstance(node, STATEMENTS)
+        for _ in self.each_node(*EXPRESSIONS_LEFT_OUT):
+            self.fail("left out")
+        for node in self.each_node(ast.Constant):
+            self.assertNotIsInstance(node.value, (float, bytes, complex))
+
+    def test_functions_and_classes(self):
+        for node in self.each_node(ast.FunctionDef):
+            self.assertIn([ast.unparse(row) for row in node.decorator_list], ([], ["property"]))
+            self.assertEqual([node.args.vararg, node.args.kwarg, node.args.kwonlyargs], [None, None, []])
+            if node.name.startswith("__"):
+                self.assertIn(node.name, SPECIAL)
+
+    def test_names(self):
+        for name, tree in TREES.items():
+            taken = dir(builtins) + [alias.name for node in imports(tree) for alias in node.names]
+            taken += [node.name for node in tree.body if isinstance(node, ast.ClassDef)]
+            for node in ast.walk(tree):
+                bound = node.arg if isinstance(node, ast.arg) else ""
+                if isinstance(node, ast.Name) and isinstance(node.ctx, ast.Store):
+                    bound = node.id
+                with self.subTest(file=name, bound=bound):
+                    # Doctest leaves a builtin of the name _ behind.
+                    self.assertFalse(bound != "_" and bound in taken)
+                    self.assertNotRegex(bound, r"^__|^_(cold|record|outside|pe_|enum_|cm_)")
+
+    def test_builtins_and_methods(self):
+        for node in self.each_node(ast.Name):
+            if isinstance(node.ctx, ast.Load) and node.id in dir(builtins):
+                self.assertIn(node.id, BUILTINS + ["property"])
+        own = [node.name for tree in TREES.values() for node in ast.walk(tree) if isinstance(node, ast.FunctionDef)]
+        for node in self.each_node(ast.Call):
+            if isinstance(node.func, ast.Attribute):
+                self.assertIn(node.func.attr, METHODS + own)
+
+    def test_words(self):
+        for tree in TREES.values():
+            bare = without_docstrings(ast.parse(ast.unparse(tree)))
+            for node in ast.walk(bare):
+                if isinstance(node, ast.Constant) and isinstance(node.value, str):
+                    self.assertNotIn(chr(37), node.value)
+                for field in ("id", "attr", "arg", "name", "value"):
+                    word = getattr(node, field, None)
+                    if isinstance(word, str):
+                        self.assertNotRegex(word, BARRED_WORDS)
