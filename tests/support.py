@@ -60,7 +60,7 @@ def check_parameters(case, call, rows):
     case.assertIs(type(call(**dict(zip(names, good)))), type(told))
     for at, (name, _, wrongs, error) in enumerate(rows):
         # Behind a wrong value all others may be wrong as well.
-        later = [row[2][(at + k) % len(row[2])] for k, row in enumerate(rows[at + 1:])]
+        later = [row[2][at % len(row[2])] if row[2] else row[1] for row in rows[at + 1:]]
         for wrong in wrongs:
             shown = repr(wrong)
             args = good[:at] + [wrong] + good[at + 1:]

@@ -39,7 +39,8 @@ class Readings(unittest.TestCase):
     def test_none(self):
         for readings in ([], ()):
             lot = Lot(8, readings)
-            self.assertEqual([lot.readings(), lot.pieces(), lot.solid(1), lot.times_of(""), lot.size], [[], [], [], 0, 8])
+            self.assertEqual([lot.readings(), lot.pieces(), lot.solid(1)], [[], [], []])
+            self.assertEqual([lot.times_of(""), lot.size], [0, 8])
 
     def test_sixty_of_twenty(self):
         self.assertEqual(Lot(2, [("ab", 20)] * 60).readings(), [("ab", 1200)])
