@@ -2,7 +2,8 @@
 
 from suretexts.basics import is_count, is_listed
 from suretexts.errors import InvalidPart, InvalidWithout, NotClose
-from suretexts.webs import Web, are_numbers, need_place, need_web
+from suretexts.steps import parts_in_turn
+from suretexts.webs import Web, are_numbers, need_place, need_web, web_steps
 
 
 def _need_without(web, without):
@@ -78,51 +79,9 @@ def plain_parts(web):
 
 
 def parts_of(web):
-    """The sorted list of the parts, by two searches that pass each tie once.
-
-    Places that are left last by the first search are begun with in the second
-    one, which goes the ties backward: so it never leaves a part for another
-    one that wasn't found already.
-    """
+    """The sorted list of the parts, by two searches that pass each tie once."""
     need_web(web)
-    behind = [[] for _ in range(web.places)]
-    for near, far in web.ties():
-        behind[far].append(near)
-    parts = []
-    seen = [False] * web.places
-    for place in _left_in_turn(web)[::-1]:
-        if not seen[place]:
-            parts.append(sorted(_left_from(behind, place, seen)))
-    return sorted(parts)
-
-
-def _left_in_turn(web):
-    """All places, in the sequence in which a search in depth leaves them."""
-    ends = _places_to(web, [])
-    left = []
-    seen = [False] * web.places
-    for place in range(web.places):
-        if not seen[place]:
-            left.extend(_left_from(ends, place, seen))
-    return left
-
-
-def _left_from(ends, place, seen):
-    """The places that a search in depth from the place leaves, which it marks as seen."""
-    left = []
-    seen[place] = True
-    trail = [(place, 0)]
-    while trail != []:
-        here, at = trail.pop()
-        if at == len(ends[here]):
-            left.append(here)
-            continue
-        trail.append((here, at + 1))
-        end = ends[here][at]
-        if not seen[end]:
-            seen[end] = True
-            trail.append((end, 0))
-    return left
+    return sorted(parts_in_turn(web.places, web_steps(web)))
 
 
 def is_close(web):

@@ -150,9 +150,20 @@ def walk_in_round(web, tour, walk):
     return len(starts_in(tour, walk)) > 0
 
 
+def is_stretch(walk, other):
+    """Whether the walk is a stretch of the other one, or this one itself."""
+    size = len(walk)
+    return walk in [other[at:at + size] for at in range(len(other) - size + 1)]
+
+
 def copied_web(web):
     """A new web that is equal."""
     return Web(web.places, web.ties())
+
+
+def web_steps(web):
+    """The ties as steps, tuples (from, to, tie)."""
+    return [(near, far, tie) for tie, (near, far) in enumerate(web.ties())]
 
 
 def back_web(web):

@@ -16,6 +16,7 @@ BUILTINS = (
 METHODS = (
     "append copy count endswith extend find get index insert isdigit items join keys pop remove replace reverse "
     "setdefault split startswith strip values").split()
+LIBRARY = {"heapq": ["heappush", "heappop"], "math": ["gcd", "factorial"]}
 SPECIAL = ["__init__", "__eq__"]
 STATEMENTS = (
     ast.Assign, ast.AugAssign, ast.If, ast.While, ast.For, ast.Return, ast.Break, ast.Continue, ast.Pass, ast.Raise,
@@ -72,8 +73,12 @@ class Language(unittest.TestCase):
         for name, tree in TREES.items():
             order[name] = []
             for node in imports(tree):
+                self.assertEqual(node.level, 0)
+                if node.module in LIBRARY:
+                    self.check_library(tree, node)
+                    continue
                 package, _, file = node.module.partition(".")
-                self.assertEqual((package, node.level), ("suretexts", 0))
+                self.assertEqual(package, "suretexts")
                 order[name].append(file)
                 for alias in node.names:
                     self.assertIsNone(alias.asname)
@@ -83,6 +88,24 @@ class Language(unittest.TestCase):
             self.assertNotEqual(free, [])
             for name in free:
                 del order[name]
+
+    def check_library(self, tree, node):
+        """What comes from the library is called by its own name, and nothing else."""
+        names = [alias.name for alias in node.names]
+        self.assertLessEqual(set(names), set(LIBRARY[node.module]))
+        self.assertEqual([alias.asname for alias in node.names], [None] * len(names))
+        called = [call.func for call in ast.walk(tree) if isinstance(call, ast.Call) and call.keywords == []]
+        for name in ast.walk(tree):
+            if isinstance(name, ast.Name) and name.id in names:
+                self.assertIn(name, called)
+
+    def test_imported_names_are_used(self):
+        for file, tree in TREES.items():
+            used = [node.id for node in ast.walk(tree) if isinstance(node, ast.Name)]
+            for node in imports(tree):
+                for alias in node.names:
+                    with self.subTest(file=file, name=alias.name):
+                        self.assertIn(alias.name, used)
 
     def test_module_level(self):
         for tree in TREES.values():

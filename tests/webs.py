@@ -57,3 +57,65 @@ def rounds(web, longest):
 
 
 CLOSE = [web for web in SMALL if plainly_close(web)]
+
+# Webs that aren't close, each with a walk: a place without a tie, a way out, two rings apart, a line.
+OPEN = [
+    (Web(2, [(0, 0), (0, 0)]), [0, 1]), (Web(2, [(0, 0), (0, 1)]), [0, 1]), (Web(2, [(0, 0), (1, 1)]), [0]),
+    (Web(3, [(0, 1), (1, 2)]), [0, 1]), (Web(3, [(0, 1), (1, 0), (1, 2)]), [0, 1, 0, 2]),
+    (Web(60, [(0, 0)]), [0])]
+
+
+def reads(tour, walk):
+    """Whether the walk is read in the round, from some place on."""
+    size = len(tour)
+    return any(all(tour[(at + k) % size] == tie for k, tie in enumerate(walk)) for at in range(size))
+
+
+def goes_round(web, tour):
+    """Whether a list is a round of the web."""
+    ties = web.ties()
+    return type(tour) is list and 0 < len(tour) <= 200000 and all(
+        ties[tour[at]][0] == ties[tour[at - 1]][1] for at in range(len(tour)))
+
+
+def is_lacking(web, tour, walk):
+    """Whether a list is a covering round of the web in which the walk is not read."""
+    return goes_round(web, tour) and set(tour) == set(range(web.many)) and not reads(tour, walk)
+
+
+def windows_without(web, walk):
+    """The ties of each lot of closed ways without the walk.
+
+    Who goes along looks back through a window, at as many ties as the walk has
+    but one, so sees of each tie whether the walk is whole by it.
+    """
+    ties, size = web.ties(), len(walk)
+    if size == 1:
+        moves = {(near, far, tie) for tie, (near, far) in enumerate(ties) if tie != walk[0]}
+    else:
+        moves = {(tuple(read[:-1]), tuple(read[1:]), read[-1])
+                 for read in walks(web, size) if len(read) == size and read != list(walk)}
+    onward = {}
+    for near, far, _ in moves:
+        onward.setdefault(near, set()).add(far)
+        onward.setdefault(far, set())
+    reached = {start: come_to(onward, start) for start in onward}
+    lots = {}
+    for near, far, tie in moves:
+        if near in reached[far]:
+            lots.setdefault(frozenset(one for one in reached[far] if far in reached[one]), set()).add(tie)
+    return list(lots.values())
+
+
+def come_to(onward, start):
+    seen, waiting = {start}, [start]
+    while waiting:
+        for far in onward[waiting.pop()] - seen:
+            seen.add(far)
+            waiting.append(far)
+    return seen
+
+
+def plainly_sure(web, walk):
+    """Whether the walk is in each covering round, by windows."""
+    return all(len(ties) < web.many for ties in windows_without(web, walk))
