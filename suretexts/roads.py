@@ -1,6 +1,6 @@
 """Roads around walks: a walk of a close web is sure exactly if it has none."""
 
-from suretexts.basics import is_between, is_listed
+from suretexts.basics import is_between
 from suretexts.parts import need_close, way
 from suretexts.webs import is_walk, leads, need_walk, need_web
 
@@ -44,7 +44,7 @@ def leads_around(web, walk, value):
     i, j, road = value
     if not is_between(j, 1, len(walk) - 1) or not is_between(i, 1, j):
         return False
-    if not is_listed(road) or not is_walk(web, road):
+    if not is_walk(web, road):
         return False
     ties = web.ties()
     ends = (ties[walk[j]][0], ties[walk[i - 1]][1])

@@ -70,3 +70,22 @@ def check_parameters(case, call, rows):
                 check_fails(case, error, {"value": wrong}, call, *good[:at], wrong, *later)
                 case.assertEqual(repr(wrong), shown)
     case.assertEqual(repr(good), before)
+
+
+def changed(value, others):
+    """All that comes of the value, or of a part of it however deep, put as one of the others."""
+    told = list(others)
+    if isinstance(value, (list, tuple)):
+        for at, part in enumerate(value):
+            told += [type(value)([*value[:at], other, *value[at + 1:]]) for other in changed(part, others)]
+    return told
+
+
+def as_tuples(value):
+    """The value with a tuple for each list, however deep."""
+    return tuple(as_tuples(part) for part in value) if isinstance(value, (list, tuple)) else value
+
+
+def as_lists(value):
+    """The value with a list for each tuple, however deep."""
+    return [as_lists(part) for part in value] if isinstance(value, (list, tuple)) else value
