@@ -37,5 +37,5 @@ def some_counts(web, most):
     return [counts for counts in told if sum(counts) <= most]
 
 
-COUNTED = [(web, counts) for web in CLOSE[::9] for counts in some_counts(web, 7)[::2]]
+COUNTED = [(web, counts) for web in CLOSE for counts in some_counts(web, 6)]
 COUNTED += [(web, counts) for web in FEW for counts in some_counts(web, web.many + 2)[::3]]

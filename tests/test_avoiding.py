@@ -23,7 +23,7 @@ def some(webs, longest, every):
     return [(web, walk) for web in webs for walk in walks(web, longest)[::every]]
 
 
-CASES = some(CLOSE[::3], 4, 3) + some(FEW, 4, 2) + some(FEW[:2], 6, 5) + some([EYES, RING], 6, 1)
+CASES = some(CLOSE, 3, 1) + some(CLOSE[::3], 4, 3) + some(FEW, 4, 2) + some(FEW[:2], 6, 5) + some([EYES, RING], 6, 1)
 
 
 class Products(unittest.TestCase):

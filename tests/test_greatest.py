@@ -66,7 +66,7 @@ def has_forcing_tie(web, walk):
 
 class Greatest(unittest.TestCase):
     def test_small_webs(self):
-        for web in BRANCHED[::3] + FEW:
+        for web in BRANCHED + FEW:
             sure = plainly_sure if web.places < 3 else is_sure_plain
             self.assertEqual(sure_walks(web), greatest(web, lambda walk: sure(web, walk)), web.ties())
 

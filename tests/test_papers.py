@@ -19,7 +19,7 @@ from tests.webs import CLOSE, FEW, OPEN, is_lacking, plainly_sure
 TWO = Web(3, [(0, 1), (1, 0), (0, 2), (2, 0)])
 EYES = Web(1, [(0, 0), (0, 0)])
 RING_60 = RINGS[3]
-CASES = some(CLOSE[::5], 4, 4) + some(FEW, 4, 3) + some(RINGS[:3] + [EYES], 5, 1)
+CASES = some(CLOSE, 3, 1) + some(CLOSE[::5], 4, 4) + some(FEW, 4, 3) + some(RINGS[:3] + [EYES], 5, 1)
 
 
 def around(many, first=0):
@@ -115,7 +115,7 @@ class RankPapers(unittest.TestCase):
 
 class AllPapers(unittest.TestCase):
     def test_right(self):
-        for web in BRANCHED[::4] + FEW + [LINE]:
+        for web in BRANCHED + FEW + [LINE]:
             told = all_paper(web)
             self.assertTrue(is_all_right(web, told), web.ties())
             self.assertEqual([walk for walk, _ in told[0]], sure_walks(web))

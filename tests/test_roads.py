@@ -2,7 +2,7 @@
 
 import unittest
 
-from suretexts.avoiding import is_sure_plain
+from suretexts.avoiding import is_sure_plain, lacking_round
 from suretexts.errors import InvalidWalk, InvalidWeb, NotClose
 from suretexts.parts import is_single_ring
 from suretexts.roads import comes_from, goes_on, is_road_around, is_sure, road_around
@@ -90,18 +90,19 @@ class Roads(unittest.TestCase):
 
 class Sure(unittest.TestCase):
     def test_both_ways_alike(self):
-        for web, walk in CASES:
+        for web, walk in some(CLOSE, 4, 1) + CASES:
             wanted = plainly_sure(web, walk)
             self.assertIs(is_sure(web, walk), wanted)
             self.assertIs(is_sure(web, tuple(walk)), wanted)
             self.assertIs(is_sure_plain(web, walk), wanted)
 
     def test_going_through_the_rounds(self):
-        for web in CLOSE[::17] + FEW[:2]:
-            covering = [tour for tour in rounds(web, 7) if len(set(tour)) == web.many]
-            for walk in walks(web, 4):
-                if not all(reads(tour, walk) for tour in covering):
-                    self.assertIs(is_sure(web, walk), False)
+        for web in CLOSE + FEW[:2]:
+            covering = [tour for tour in rounds(web, 6) if len(set(tour)) == web.many]
+            for walk in walks(web, 3):
+                lacking = lacking_round(web, walk)
+                known = covering if lacking is None else covering + [lacking]
+                self.assertIs(is_sure(web, walk), all(reads(tour, walk) for tour in known))
 
     def test_stretches(self):
         for web in CLOSE[::7] + FEW:
