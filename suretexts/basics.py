@@ -33,6 +33,16 @@ def is_listed(value):
     return isinstance(value, (list, tuple))
 
 
+def count_of(signs, most):
+    """The COUNT that a string is as decimal digits, at most so many and none needless, or None."""
+    if not is_between(len(signs), 1, most) or (signs[0] == "0" and signs != "0"):
+        return None
+    for sign in signs:
+        if not "0" <= sign <= "9":
+            return None
+    return int(signs)
+
+
 def need_size(size):
     if not is_size(size):
         raise InvalidSize(size)

@@ -15,7 +15,7 @@ def _is_rising(values):
     return all([values[at - 1] < values[at] for at in range(1, len(values))])
 
 
-def _is_rising_lot(web, value):
+def is_rising_lot(web, value):
     """Whether any value is a rising list of places."""
     return is_listed(value) and all([is_below(place, web.places) for place in value]) and _is_rising(value)
 
@@ -31,7 +31,7 @@ def _is_shut(web, lot, place, barred):
 
 
 def _is_lot_around(web, walk, i, j, lot):
-    if not _is_rising_lot(web, lot):
+    if not is_rising_lot(web, lot):
         return False
     ties = web.ties()
     return ties[walk[i]][0] not in lot and _is_shut(web, lot, ties[walk[j]][0], (walk[i - 1], walk[j]))

@@ -15,8 +15,13 @@ def _is_for_each_tie(web, value, most):
     return all([is_between(number, 1, most) for number in value])
 
 
+def are_prices(web, value):
+    """Whether any value is prices for the web."""
+    return _is_for_each_tie(web, value, HIGHEST_PRICE)
+
+
 def need_prices(web, prices):
-    if not _is_for_each_tie(web, prices, HIGHEST_PRICE):
+    if not are_prices(web, prices):
         raise InvalidPrices(prices)
 
 

@@ -1,11 +1,13 @@
 """Lots of readings as texts of lines."""
 
-from suretexts.basics import is_between, is_size
+from suretexts.basics import count_of, is_between, is_size
 from suretexts.errors import BadText
 from suretexts.lots import MOST_READINGS, MOST_TIMES, lot_told, need_lot
 from suretexts.rings import is_text
 
 EMPTY = "-"
+# As many as the most times have.
+MOST_DIGITS = 4
 
 
 def lot_text(lot):
@@ -48,7 +50,7 @@ def _size_of(line):
     words = line.split(" ")
     if len(words) != 2 or words[0] != "size":
         return None
-    size = _number_of(words[1])
+    size = count_of(words[1], MOST_DIGITS)
     return size if is_size(size) else None
 
 
@@ -57,19 +59,8 @@ def _reading_of(line):
     words = line.split(" ")
     if len(words) != 3 or words[0] != "read" or words[2] == "":
         return None
-    times = _number_of(words[1])
+    times = count_of(words[1], MOST_DIGITS)
     text = "" if words[2] == EMPTY else words[2]
     if not is_between(times, 1, MOST_TIMES) or not is_text(text):
         return None
     return (text, times)
-
-
-def _number_of(word):
-    """The number above 0 that the word is; None if it is none, or has more digits than any bound."""
-    if not is_between(len(word), 1, len(str(MOST_TIMES))):
-        return None
-    for sign in word:
-        if not "0" <= sign <= "9":
-            return None
-    # The digit 0 is needless ahead of others, and alone it is out of every bound.
-    return None if word[0] == "0" else int(word)

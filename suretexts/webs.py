@@ -11,7 +11,8 @@ LONGEST_WALK = 400
 LONGEST_ROUND = 200000
 
 
-def _are_ties(places, value):
+def are_ties(places, value):
+    """Whether any value is a list of ties for a web with so many places."""
     if not is_listed(value) or len(value) > MOST_TIES:
         return False
     for tie in value:
@@ -28,7 +29,7 @@ class Web:
     def __init__(self, places, ties):
         if not is_between(places, 1, MOST_PLACES):
             raise InvalidPlaces(places)
-        if not _are_ties(places, ties):
+        if not are_ties(places, ties):
             raise InvalidTies(ties)
         self._places = places
         self._ties = list(ties)

@@ -12,17 +12,18 @@ TREES = {path.stem: ast.parse(path.read_text()) for path in PATHS}
 
 BUILTINS = (
     "len range enumerate zip min max sum abs sorted reversed int str bool list tuple dict set isinstance ord repr any "
-    "all divmod ValueError LookupError RuntimeError ArithmeticError").split()
+    "all divmod ValueError LookupError RuntimeError ArithmeticError TypeError").split()
 METHODS = (
     "append copy count endswith extend find get index insert isdigit items join keys pop remove replace reverse "
     "setdefault split startswith strip values").split()
 LIBRARY = {"heapq": ["heappush", "heappop"], "math": ["gcd", "factorial"]}
-SPECIAL = ["__init__", "__eq__"]
+SPECIAL = (
+    "__init__ __eq__ __len__ __contains__ __getitem__ __iter__ __call__ __enter__ __exit__").split()
 STATEMENTS = (
     ast.Assign, ast.AugAssign, ast.If, ast.While, ast.For, ast.Return, ast.Break, ast.Continue, ast.Pass, ast.Raise,
-    ast.Expr, ast.FunctionDef, ast.ClassDef, ast.ImportFrom)
+    ast.Expr, ast.FunctionDef, ast.ClassDef, ast.ImportFrom, ast.Try, ast.With)
 EXPRESSIONS_LEFT_OUT = (
-    ast.GeneratorExp, ast.Lambda, ast.NamedExpr, ast.Yield, ast.YieldFrom, ast.Await, ast.Div, ast.Pow, ast.Set)
+    ast.GeneratorExp, ast.Lambda, ast.NamedExpr, ast.Yield, ast.YieldFrom, ast.Await, ast.Div, ast.Set)
 BARRED_WORDS = re.compile(
     r"\b(type|typing|enum|Enum|Flag|Generic|Protocol|ABC|namedtuple|NamedTuple|register|mro|elements|open|input|law)\b"
     r"|dataclass|overload|contextmanager|_wall|_WallAttr")
@@ -112,9 +113,46 @@ class Language(unittest.TestCase):
             for node in tree.body:
                 self.assertIsInstance(node, (ast.Expr, ast.ImportFrom, ast.FunctionDef, ast.ClassDef, ast.Assign))
                 if isinstance(node, (ast.Expr, ast.Assign)):
-                    self.assertIsInstance(node.value, ast.Constant)
+                    self.check_plain(node.value, [other.name for other in tree.body if isinstance(other, ast.FunctionDef)])
             names = defined(tree) + [alias.name for node in imports(tree) for alias in node.names]
             self.assertEqual(len(names), len(set(names)))
+
+    def check_plain(self, value, functions):
+        """A constant, or a tuple or dict of such and of functions, in which nothing but tuples is within."""
+        within = list(ast.iter_child_nodes(value))
+        if isinstance(value, (ast.Tuple, ast.Dict)):
+            for node in within:
+                if isinstance(node, ast.Name):
+                    self.assertIn(node.id, functions)
+                elif not isinstance(node, ast.Load):
+                    self.assertNotIsInstance(node, ast.Dict)
+                    self.check_plain(node, functions)
+        else:
+            self.assertIsInstance(value, ast.Constant)
+
+    def test_powers_have_plain_exponents(self):
+        for node in self.each_node(ast.BinOp):
+            if isinstance(node.op, ast.Pow):
+                self.assertIsInstance(node.right, ast.Constant)
+                self.assertTrue(0 <= node.right.value <= 64)
+
+    def test_errors_that_are_caught(self):
+        own = [node.name for node in TREES["errors"].body if isinstance(node, ast.ClassDef)]
+        for node in self.each_node(ast.Try):
+            self.assertEqual([node.finalbody, node.orelse, len(node.body)], [[], [], 1])
+            for handler in node.handlers:
+                caught = handler.type.elts if isinstance(handler.type, ast.Tuple) else [handler.type]
+                self.assertLessEqual({name.id for name in caught}, set(own))
+
+    def test_what_blocks_leave(self):
+        """Behind a block only names and attributes are assigned."""
+        for node in self.each_node(ast.FunctionDef):
+            if node.name == "__exit__":
+                self.assertEqual([arg.arg for arg in node.args.args], ["self", "kind", "value", "trace"])
+                for row in node.body:
+                    self.assertIsInstance(row, ast.Assign)
+                    for side in (row.targets[0], row.value):
+                        self.assertIsInstance(side, (ast.Name, ast.Attribute))
 
     def test_statements_and_expressions(self):
         for node in self.each_node(ast.stmt):
@@ -126,8 +164,10 @@ class Language(unittest.TestCase):
 
     def test_functions_and_classes(self):
         for node in self.each_node(ast.FunctionDef):
-            self.assertIn([ast.unparse(row) for row in node.decorator_list], ([], ["property"]))
-            self.assertEqual([node.args.vararg, node.args.kwarg, node.args.kwonlyargs], [None, None, []])
+            self.assertIn([ast.unparse(row) for row in node.decorator_list], ([], ["property"], ["classmethod"]))
+            self.assertEqual([node.args.kwarg, node.args.kwonlyargs, node.args.defaults], [None, [], []])
+            if node.args.vararg is not None:
+                self.assertEqual(node.args.args[0].arg, "self")
             if node.name.startswith("__"):
                 self.assertIn(node.name, SPECIAL)
 
@@ -147,7 +187,7 @@ class Language(unittest.TestCase):
     def test_builtins_and_methods(self):
         for node in self.each_node(ast.Name):
             if isinstance(node.ctx, ast.Load) and node.id in dir(builtins):
-                self.assertIn(node.id, BUILTINS + ["property"])
+                self.assertIn(node.id, BUILTINS + ["property", "classmethod"])
         own = [node.name for tree in TREES.values() for node in ast.walk(tree) if isinstance(node, ast.FunctionDef)]
         for node in self.each_node(ast.Call):
             if isinstance(node.func, ast.Attribute):
