@@ -1,15 +1,8 @@
 """Rounds that lack a walk, found by reading along them: the plain reckoning of what is sure."""
 
-from suretexts.parts import need_close
+from suretexts.parts import need_walk_of_close
 from suretexts.steps import closed_way, parts_in_turn
 from suretexts.tables import table
-from suretexts.webs import need_walk, need_web
-
-
-def _need_walk_of_close(web, walk):
-    need_web(web)
-    need_walk(web, walk)
-    need_close(web)
 
 
 def _standings(web, walk):
@@ -34,7 +27,7 @@ def _steps(web, walk, standings):
 
 def product(web, walk):
     """The tuple (list of the standings, list of the steps)."""
-    _need_walk_of_close(web, walk)
+    need_walk_of_close(web, walk)
     standings = _standings(web, walk)
     return (standings, _steps(web, walk, standings))
 

@@ -33,14 +33,21 @@ def is_listed(value):
     return isinstance(value, (list, tuple))
 
 
+def is_letter(sign):
+    """Whether a sign is a letter."""
+    return "a" <= sign <= "z"
+
+
+def is_digit(sign):
+    """Whether a sign is a decimal digit."""
+    return "0" <= sign <= "9"
+
+
 def count_of(signs, most):
     """The COUNT that a string is as decimal digits, at most so many and none needless, or None."""
     if not is_between(len(signs), 1, most) or (signs[0] == "0" and signs != "0"):
         return None
-    for sign in signs:
-        if not "0" <= sign <= "9":
-            return None
-    return int(signs)
+    return int(signs) if all([is_digit(sign) for sign in signs]) else None
 
 
 def need_size(size):

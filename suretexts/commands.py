@@ -1,6 +1,6 @@
 """The commands of a desk: which strings are some, and what they hand over."""
 
-from suretexts.basics import count_of, is_between
+from suretexts.basics import count_of, is_between, is_digit, is_letter
 from suretexts.errors import BadText
 from suretexts.readers import EMPTY, lot_of, lot_text
 from suretexts.rings import is_ring
@@ -54,15 +54,11 @@ CLAIMS = {
     "parted": ("name", "count")}
 
 
-def _is_letter(sign):
-    return "a" <= sign <= "z"
-
-
 def is_name(value):
     """Whether any value is a name."""
-    if not isinstance(value, str) or not is_between(len(value), 1, LONGEST_NAME) or not _is_letter(value[0]):
+    if not isinstance(value, str) or not is_between(len(value), 1, LONGEST_NAME) or not is_letter(value[0]):
         return False
-    return all([_is_letter(sign) or "0" <= sign <= "9" for sign in value])
+    return all([is_letter(sign) or is_digit(sign) for sign in value])
 
 
 def lot_shown(lot):

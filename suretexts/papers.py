@@ -3,21 +3,14 @@
 from suretexts.avoiding import lacking_round
 from suretexts.errors import TooMany
 from suretexts.greatest import sure_walks
-from suretexts.parts import need_close
+from suretexts.parts import need_walk_of_close
 from suretexts.roads import is_sure, road_between
 from suretexts.steps import parts_in_turn
 from suretexts.tables import table
-from suretexts.webs import need_walk, need_web
 
 MOST_PAPER_TIES = 60
 MOST_STANDINGS = 400
 MOST_LOOSE = 300
-
-
-def _need_walk_of_close(web, walk):
-    need_web(web)
-    need_walk(web, walk)
-    need_close(web)
 
 
 def _need_short(walk):
@@ -47,7 +40,7 @@ def _least_lots(web, walk):
 
 def yes_paper(web, walk):
     """The yes paper of the walk with the least lots, or None."""
-    _need_walk_of_close(web, walk)
+    need_walk_of_close(web, walk)
     _need_short(walk)
     return _least_lots(web, walk) if is_sure(web, walk) else None
 
@@ -95,7 +88,7 @@ def _ties_within(parts, steps):
 
 def rank_paper(web, walk):
     """A right rank paper of the walk, or None."""
-    _need_walk_of_close(web, walk)
+    need_walk_of_close(web, walk)
     standings, steps = _come_from_start(web, walk)
     if len(standings) > MOST_STANDINGS:
         raise TooMany("standings", MOST_STANDINGS)

@@ -3,7 +3,7 @@
 from suretexts.basics import is_count, is_listed
 from suretexts.errors import InvalidPart, InvalidWithout, NotClose
 from suretexts.steps import parts_in_turn
-from suretexts.webs import Web, are_numbers, need_place, need_web, web_steps
+from suretexts.webs import Web, are_numbers, need_place, need_walk, need_web, web_steps
 
 
 def _need_without(web, without):
@@ -98,6 +98,12 @@ def is_single_ring(web):
 def need_close(web):
     if not is_close(web):
         raise NotClose()
+
+
+def need_walk_of_close(web, walk):
+    need_web(web)
+    need_walk(web, walk)
+    need_close(web)
 
 
 def _need_part(web, part):

@@ -1,6 +1,6 @@
 """Texts, and rings that are read round and round."""
 
-from suretexts.basics import is_count
+from suretexts.basics import is_count, is_letter
 from suretexts.cycles import least_start, longest_borders, starts_in
 from suretexts.errors import InvalidBy, InvalidRing, InvalidText, InvalidWord
 
@@ -11,10 +11,7 @@ def is_text(value):
     """Whether any value is a text."""
     if not isinstance(value, str) or len(value) > MOST_LETTERS:
         return False
-    for sign in value:
-        if not "a" <= sign <= "z":
-            return False
-    return True
+    return all([is_letter(sign) for sign in value])
 
 
 def is_ring(value):

@@ -1,14 +1,8 @@
 """Roads around walks: a walk of a close web is sure exactly if it has none."""
 
 from suretexts.basics import is_between
-from suretexts.parts import need_close, way
-from suretexts.webs import is_walk, leads, need_walk, need_web
-
-
-def _need_walk_of_close(web, walk):
-    need_web(web)
-    need_walk(web, walk)
-    need_close(web)
+from suretexts.parts import need_walk_of_close, way
+from suretexts.webs import is_walk, leads
 
 
 def road_between(web, first, last):
@@ -23,7 +17,7 @@ def road_between(web, first, last):
 
 def road_around(web, walk):
     """A tuple (i, j, road) that is a road around the walk, or None."""
-    _need_walk_of_close(web, walk)
+    need_walk_of_close(web, walk)
     tried = {}
     for j in range(1, len(walk)):
         for i in range(1, j + 1):
@@ -53,7 +47,7 @@ def leads_around(web, walk, value):
 
 def is_road_around(web, walk, value):
     """Whether any value is a road around the walk."""
-    _need_walk_of_close(web, walk)
+    need_walk_of_close(web, walk)
     return leads_around(web, walk, value)
 
 

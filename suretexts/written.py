@@ -1,5 +1,7 @@
 """COUNTS, words, None, lists and tuples, written as strings, and read sign by sign."""
 
+from suretexts.basics import is_digit, is_letter
+
 MOST_DIGITS = 30
 EMPTY = "-"
 CLOSING = {"[": "]", "(": ")"}
@@ -16,23 +18,15 @@ def thing_written(thing):
     return str(thing)
 
 
-def _is_digit(sign):
-    return "0" <= sign <= "9"
-
-
-def _is_letter(sign):
-    return "a" <= sign <= "z"
-
-
 def _behind_token(text, at):
     """The position behind the longest COUNT, word or None that begins at this one; the same if none does."""
     if text[at] == "0" or text[at] == EMPTY:
         return at + 1
     end = at
-    if _is_digit(text[at]):
-        while end < len(text) and _is_digit(text[end]) and end < at + MOST_DIGITS:
+    if is_digit(text[at]):
+        while end < len(text) and is_digit(text[end]) and end < at + MOST_DIGITS:
             end += 1
-    while end < len(text) and not _is_digit(text[at]) and _is_letter(text[end]):
+    while end < len(text) and not is_digit(text[at]) and is_letter(text[end]):
         end += 1
     return end
 
@@ -40,11 +34,11 @@ def _behind_token(text, at):
 def _thing_of(token):
     if token == EMPTY:
         return None
-    return int(token) if _is_digit(token[0]) else token
+    return int(token) if is_digit(token[0]) else token
 
 
 class Reading:
-    """What was read so far of a written thing: the things within each bracket that is open, and around them.
+    """What was read so far of a written thing: the things within each bracket that lacks its end, and around them.
 
     A thing is wanted at the begin, behind an opening bracket and behind a blank.
     """

@@ -55,9 +55,9 @@ def plainly(rows, value):
 
 class Names(unittest.TestCase):
     def test_names(self):
-        for value in ("a", "z", "a1", "abcdefgh", "a2345678", "p0", "size", "claim"):
+        for value in ("a", "z", "a1", "abcdefgh", "a2345678", "p0", "p9", "size", "claim"):
             self.assertEqual([value, is_name(value)], [value, True])
-        for value in ("", "abcdefghi", "a23456789", "1", "1a", "A", "aB", "a b", " a", "a ", "a-", "-", "a\n", "{", "`", "a_", "a."):
+        for value in ("", "abcdefghi", "a23456789", "1", "1a", "A", "aB", "a b", " a", "a ", "a-", "-", "a\n", "{", "`", "a_", "a.", "a:", "a/", "a{"):
             self.assertEqual([value, is_name(value), is_name(value=value)], [value, False, False])
 
     def test_any_value(self):

@@ -8,6 +8,7 @@ from suretexts.errors import InvalidSort, InvalidThing, TooMany, UnreadText
 from suretexts.papers import rank_paper, yes_paper
 from suretexts.texts import is_of_sort, read, written
 from suretexts.webs import Web
+from suretexts.written import reading_of, thing_written
 from tests.support import HUGE, LISTS, NUMBERS, ODD, STRINGS, as_tuples, changed, check_fails, check_parameters
 from tests.webs import FEW, SMALL, plainly_sure, walks
 
@@ -118,6 +119,19 @@ class Sorts(unittest.TestCase):
                     check_fails(self, InvalidThing, {"value": value}, written, sort, value)
             self.assertEqual(repr(value), shown)
 
+    def test_wrong_ones(self):
+        for sort, values in (
+                ("web", [(2, [(0, 1)]), [2, [(0, 1)]], "(1 [])", 0, []]),
+                ("walk", [{0: 1}, [[0]], [(0,)], "0", 0, [0, "1"]]),
+                ("yes", [[(1, 1)], [(1, 1, [], [])], [[1, 1, []]], [(1, 1, 0)], [([1], 1, [])], [(1, 1, [(0,)])], [(1, 1, {})],
+                         [()], ((),), [(1, (1,), [])], {}, (1, 1, [])]),
+                ("ranks", [([],), ([], [], []), [[], []], ([], {}), ({}, []), ([((0, 0), 1)], [[0, 1]]), ([[(0, 0), 1]], []),
+                           ([([0, 0], 1)], []), ([((0, 0, 0), 1)], []), ([((0,), 1)], []), ([((0, 0), 1, 1)], []),
+                           ([((0, 0),)], []), ([], [(0, 1, 2)]), ([], [(0,)]), ([], [0]), ([0], []), ([(0, 0)], []),
+                           ([], [((0, 0), 1)]), (0, 0), []])):
+            for value in values:
+                self.assertEqual([sort, value, is_of_sort(sort, value)], [sort, value, False])
+
     def test_none_of_these(self):
         for sort, value in GOOD.items():
             for other in changed(value, [True, False, None, -1, "0", -HUGE, HUGE + 1]):
@@ -210,12 +224,12 @@ class Unread(unittest.TestCase):
                 ("", 0), (" ", 0), ("]", 0), ("[", 1), ("[ ", 1), ("[0", 2), ("[0 ", 3), ("[0  ", 3), ("[0 ]", 3), ("[0)", 2),
                 ("[00", 2), ("[01]", 2), ("00", 1), ("0 ", 1), ("[0]x", 3), ("[0] ", 3), ("[0a]", 2), ("[a0]", 2), ("[--]", 2),
                 ("[0,1]", 2), ("[A]", 1), ("[-1]", 2), ("[(0]", 3), ("[0", 2), ("(2 [(0 1)", 9), ("[1]\n", 3), ("+", 0),
-                ("[()()]", 3), ("[0(", 2), ("a[", 1), ("-a", 1), ("[%", 1), ("[.", 1)):
+                ("{", 0), ("[{]", 1), ("[z{]", 2), ("`", 0), ("[/]", 1), ("[:]", 1), ("[9:]", 2), ("[()()]", 3), ("[0(", 2), ("a[", 1), ("-a", 1), ("[%", 1), ("[.", 1)):
             for sort in SORTS:
                 check_fails(self, UnreadText, {"position": position}, read, sort, text)
 
     def test_written_but_of_another_sort(self):
-        texts = ["0", "a", "-", "[]", "()", "[[]]", "(0 1)", "[a]", "[-]", "[0 -]", "(0 [])", "(61 [])", "(2 [(0 2)])",
+        texts = ["0", "a", "z", "[az]", "-", "[]", "()", "[[]]", "(0 1)", "[a]", "[-]", "[0 -]", "(0 [])", "(61 [])", "(2 [(0 2)])",
                  "(2 ((0 1)))", "(2 [[0 1]])", "[2 []]", "(2 [] [])", "(1 1 [])", "[(1 1)]", "[(1 1 ())]", "([] ())",
                  "(() [])", "(a [])", "([(0 1)] [])", "[" + "0 " * 400 + "0]", "[(0 0 [" + "0 " * 60 + "0])]", "[" * 16 + "]" * 16]
         for text in texts:
@@ -250,6 +264,10 @@ class Unread(unittest.TestCase):
         check_fails(self, UnreadText, {"position": None}, read, "walk", "a" * 8000)
         check_fails(self, UnreadText, {"position": 7999}, read, "walk", "[" + "0 " * 3999 + "]")
         check_fails(self, UnreadText, {"position": None}, read, "walk", "[" + "0 " * 3998 + "0]")
+
+    def test_things_of_no_sort(self):
+        for text, thing in (("-", None), ("abz", "abz"), ("0", 0), ("190", 190), ("[a - (0 [])]", ["a", None, (0, [])]), ("()", ())):
+            self.assertEqual([reading_of(text), thing_written(thing)], [(None, thing), text])
 
     def test_no_string(self):
         for value in ODD + NUMBERS + LISTS + [GOOD["walk"], PAIR]:
