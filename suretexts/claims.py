@@ -2,7 +2,7 @@
 
 from suretexts.avoiding import lacking_round
 from suretexts.basics import is_count, is_listed
-from suretexts.detours import some_round
+from suretexts.detours import detoured, some_round
 from suretexts.errors import InvalidClaim
 from suretexts.flows import is_price_paper, price_paper
 from suretexts.judges import is_no_paper, is_rank_paper, is_rising_lot, is_yes_paper
@@ -12,7 +12,7 @@ from suretexts.pieced import are_pieces, has_just
 from suretexts.pieces import PieceWeb
 from suretexts.prices import are_prices
 from suretexts.rings import is_ring, is_text, stands_in
-from suretexts.roads import is_sure
+from suretexts.roads import is_sure, road_around
 from suretexts.shortest import least_price, least_round, price_of, shortest_ring
 from suretexts.webs import Web, covers, is_round, is_walk
 
@@ -122,6 +122,11 @@ def _shut_lot(web):
     return []
 
 
+def _short_round_without(web, walk, tour):
+    """The shorter one of two covering rounds that lack the walk, which isn't sure: one by detours of this round."""
+    return min([detoured(web, walk, road_around(web, walk), tour), lacking_round(web, walk)], key=len)
+
+
 def _ring_without(pieces, text):
     """A ring that explains the pieces, and in which the text, which is doubtful, isn't read."""
     ring = shortest_ring(pieces)
@@ -129,7 +134,7 @@ def _ring_without(pieces, text):
         return ring
     # The text is read in a ring that explains, so it has a walk.
     pieceweb = PieceWeb(pieces)
-    return pieceweb.ring_of(lacking_round(pieceweb.web(), pieceweb.walk_of(text)))
+    return pieceweb.ring_of(_short_round_without(pieceweb.web(), pieceweb.walk_of(text), pieceweb.round_of(ring)))
 
 
 def _paper_for(row, things):

@@ -13,10 +13,10 @@ def column_of(ring):
 def _formers(column):
     """For each place of the column its former, the place of the same letter among the sorted ones."""
     # Places of alike letters stay in their sequence.
-    places = [place for _, place in sorted([(letter, place) for place, letter in enumerate(column)])]
+    sorted_ones = sorted([(letter, at) for at, letter in enumerate(column)])
     formers = [0] * len(column)
-    for at, place in enumerate(places):
-        formers[place] = at
+    for former, (_, place) in enumerate(sorted_ones):
+        formers[place] = former
     return formers
 
 

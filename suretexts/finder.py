@@ -35,13 +35,19 @@ def _in_common(one, other):
     return one[:many]
 
 
+def _sorted_places(texts):
+    """The tuples (number of a text, place of it), sorted by what is read from there on, and then by themselves."""
+    read = [(texts[number][place:], number, place) for number, place in _places_in(texts)]
+    return [(number, place) for _, number, place in sorted(read)]
+
+
 class Finder:
     """Texts, and their rows: the places of all of them, sorted by what is read from there on."""
 
     def __init__(self, texts):
         _need_texts(texts)
         self._texts = list(texts)
-        self._rows = [row for _, row in sorted([(texts[row[0]][row[1]:], row) for row in _places_in(texts)])]
+        self._rows = _sorted_places(texts)
 
     def __eq__(self, other):
         return isinstance(other, Finder) and self._texts == other._texts

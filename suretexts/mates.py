@@ -30,12 +30,11 @@ def _keeps(tour, mate):
     """Whether the round keeps the mate."""
     near, far, least, most = mate
     size = len(tour)
-    for at in range(size):
-        if tour[at] == near:
-            for apart in range(least, most + 1):
-                if tour[(at + apart) % size] == far:
-                    return True
-    return False
+    # How often the tie far stands ahead of each position, and of those that are read on behind the end.
+    ahead = [0]
+    for at in range(size + most):
+        ahead.append(ahead[-1] + (1 if tour[at % size] == far else 0))
+    return any([ahead[at + least] < ahead[at + most + 1] for at in range(size) if tour[at] == near])
 
 
 def _broken(tour, mates):

@@ -113,7 +113,8 @@ def unknown_in(lots, claims, line):
         return errors.NameTaken, {"name": first}
     if word == "claim" and first in claims:
         return errors.LabelTaken, {"label": first}
-    names = {"add": [first], "take": [first], "drop": [first], "both": more, "copy": more, "claim": more[1:2]}.get(word, [])
+    names = {"add": [first], "take": [first], "drop": [first], "both": more, "copy": more,
+             "claim": more[1:2]}.get(word, [])
     for name in names:
         if name not in lots:
             return errors.UnknownName, {"value": name}

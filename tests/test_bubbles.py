@@ -50,9 +50,9 @@ def inner_of(web, lot, begin, end):
     ties = list(enumerate(web.ties()))
     out = [tie for tie, (near, far) in ties if near in lot - {end}]
     back = [tie for tie, (near, far) in ties if far in lot - {begin}]
-    if all(web.ties()[tie][1] in lot - {begin} for tie in out) and all(web.ties()[tie][0] in lot - {end} for tie in back):
-        return out
-    return None
+    goes = all(web.ties()[tie][1] in lot - {begin} for tie in out)
+    comes = all(web.ties()[tie][0] in lot - {end} for tie in back)
+    return out if goes and comes else None
 
 
 def is_woven(lot, ends, begin, end):
@@ -129,7 +129,8 @@ class Shut(unittest.TestCase):
     def test_a_place_without_ties(self):
         # One that nothing leads to, one that leads nowhere, within and as the end.
         web = Web(5, [(0, 1), (0, 2), (1, 3)])
-        self.assertEqual([bubbles(web), plain_bubbles(web), is_shut(web, 0, 3), bubble_end(web, 4)], [[], [], False, None])
+        self.assertEqual([bubbles(web), plain_bubbles(web), is_shut(web, 0, 3), bubble_end(web, 4)],
+                         [[], [], False, None])
         web = Web(4, [(0, 1), (0, 2), (1, 3), (2, 3)])
         self.assertEqual([bubbles(web), bubble_end(web, 3)], [[(0, 3)], None])
         self.assertEqual([bubbles(Web(60, [])), plain_bubbles(Web(60, []))], [[], []])
@@ -165,7 +166,8 @@ class Bubbles(unittest.TestCase):
         self.assertEqual([inside(web, 0, 5), inside(web, 1, 4)], [[0, 1, 2, 3, 4, 5], [1, 2, 3, 4]])
 
     def test_many_places(self):
-        ladder = Web(60, [(place, place + 1) for place in range(59)] + [(0, 59)] + [(2 * at, 2 * at + 2) for at in range(10)])
+        ladder = Web(60, [(place, place + 1) for place in range(59)] + [(0, 59)] + [(2 * at,
+            2 * at + 2) for at in range(10)])
         wanted = [(0, 59)] + [(2 * at, 2 * at + 2) for at in range(1, 10)]
         self.assertEqual(plain_bubbles(ladder), bubbles(ladder))
         self.assertEqual(bubbles(ladder), wanted)

@@ -168,7 +168,8 @@ class OnlyRound(unittest.TestCase):
         self.assertEqual(only_round(ring, [1] * 60), list(range(60)))
         self.assertEqual(only_round(Web(5, [(at, (at + 1) % 5) for at in range(5)]), [12] * 5), [0, 1, 2, 3, 4] * 12)
         told = only_round(EYES, [12, 1])
-        self.assertEqual([told, how_many(EYES, [12, 1]), is_counted_round(EYES, [12, 1], told)], [[0] * 12 + [1], 1, True])
+        self.assertEqual([told, how_many(EYES, [12, 1]), is_counted_round(EYES, [12, 1], told)],
+                         [[0] * 12 + [1], 1, True])
 
     def test_normal_and_new(self):
         web = Web(2, [(1, 1), (1, 0), (0, 1)])

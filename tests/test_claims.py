@@ -3,17 +3,22 @@
 import unittest
 from itertools import product
 
+from suretexts.avoiding import lacking_round
 from suretexts.claims import contrary, is_claim, is_paper_of, is_true, paper_of, words
+from suretexts.detours import detoured
 from suretexts.errors import InvalidClaim, TooMany
 from suretexts.papers import rank_paper
 from suretexts.pieced import ring_pieces
 from suretexts.pieces import PieceWeb
 from suretexts.rings import begins, normal
+from suretexts.roads import road_around
+from suretexts.shortest import shortest_ring
 from suretexts.webs import Web
 from tests import support
 from tests.claims import CONTRARIES, is_paper_right, is_plainly_so, other_one, pieces_of
 from tests.prices import some_prices
 from tests.support import HUGE, LISTS, NUMBERS, ODD, STRINGS, as_tuples, changed, check_fails, check_parameters
+from tests.test_keeper import Steps
 from tests.test_pieced import PIECES_60_WORDS, PIECES_61_WORDS, PIECES_81, SIXTY
 from tests.webs import CLOSE, FEW, OPEN, SMALL, walks
 
@@ -33,13 +38,17 @@ WRONG_CLAIMS = ODD + NUMBERS + STRINGS + LISTS + [other for claim in GOOD for ot
 WRONG_CLAIMS += [claim + (0,) for claim in GOOD] + [claim[:-1] for claim in GOOD] + [list(claim) for claim in GOOD]
 WRONG_CLAIMS += [("plain", *claim[1:]) for claim in GOOD] + [
     ("sure", Web(2, [(0, 1)]), [0]), ("loose", Web(1, []), [0]), ("sure", Web(2, [(0, 0)]), [0]), ("sure", EYES, []),
-    ("sure", PAIR, [0, 0]), ("sure", EYES, [0] * 401), ("sure", EYES, [2]), ("loose", SHOP, "ab"), ("cheap", PAIR, [2], 5),
+    ("sure", PAIR, [0, 0]), ("sure", EYES, [0] * 401), ("sure", EYES, [2]), ("loose", SHOP, "ab"),
+    ("cheap", PAIR, [2], 5),
     ("cheap", PAIR, [2, 3, 1], 5), ("dear", PAIR, [0, 3], 5), ("dear", PAIR, [2, 21], 5), ("cheap", PAIR, 5, [2, 3]),
     ("dear", Web(2, [(0, 1)]), [1], 5), ("cheap", PAIR, [2, 3], "5"), ("close", [(0, 1)]), ("close", SHOP), ("close",),
     ("parted", EYES, []), ("certain", ["ab"], "ab"), ("doubtful", ["ab", "cd"], "ab"), ("certain", ["aa", "ab"], "aa"),
-    ("certain", SHOP, "a"), ("doubtful", SHOP, ""), ("certain", ["aab", "aba", "baa"], "ab"), ("certain", SHOP, "ab" * 201),
-    ("certain", SHOP + ["abc"], "bac"), ("certain", SHOP + ["ab"], "bac"), ("certain", [], "ab"), ("certain", "ab", "ab"),
-    ("doubtful", PIECES_81, "ab"), ("doubtful", PIECES_61_WORDS, "abcd"), ("certain", SHOP, ["bac"]), ("certain", PAIR, [0])]
+    ("certain", SHOP, "a"), ("doubtful", SHOP, ""), ("certain", ["aab", "aba", "baa"], "ab"),
+    ("certain", SHOP, "ab" * 201),
+    ("certain", SHOP + ["abc"], "bac"), ("certain", SHOP + ["ab"], "bac"), ("certain", [], "ab"),
+    ("certain", "ab", "ab"),
+    ("doubtful", PIECES_81, "ab"), ("doubtful", PIECES_61_WORDS, "abcd"), ("certain", SHOP, ["bac"]),
+    ("certain", PAIR, [0])]
 
 
 def some_claims():
@@ -50,7 +59,8 @@ def some_claims():
         if web.many < 6:
             for prices in some_prices(web)[at % 2::2]:
                 least = sum(prices)
-                told += [("cheap", web, prices, many) for many in (0, least - 1, least, least + 1, 2 * least, 9 * least)]
+                told += [("cheap", web, prices, many) for many in (0, least - 1, least, least + 1, 2 * least,
+                    9 * least)]
     for pieces in (SHOP, ["aa", "ab", "ba"], ["ab", "ba"], ["aab", "aba", "baa", "abb", "bba"], ["a" * 8]):
         size = len(pieces[0])
         told += [("certain", pieces, "".join(text)) for many in range(size, max(size, 4) + 1)
@@ -90,7 +100,8 @@ class Claims(unittest.TestCase):
         for claim in CLAIMS[::3] + GOOD:
             for told in (claim, other_one(claim)):
                 self.assertIs(is_claim(told), True)
-                self.assertIs(is_claim(value=tuple(tuple(part) if isinstance(part, list) else part for part in told)), True)
+                self.assertIs(is_claim(value=tuple(tuple(part) if isinstance(part, list) else part for part in told)),
+                              True)
 
     def test_any_value(self):
         for value in WRONG_CLAIMS:
@@ -101,7 +112,8 @@ class Claims(unittest.TestCase):
 
     def test_great_counts(self):
         for word, wanted in (("cheap", True), ("dear", False)):
-            self.assertEqual([is_claim((word, PAIR, [2, 3], HUGE)), is_true((word, PAIR, [2, 3], HUGE))], [True, wanted])
+            self.assertEqual([is_claim((word, PAIR, [2, 3], HUGE)), is_true((word, PAIR, [2, 3], HUGE))],
+                             [True, wanted])
             self.assertEqual([is_claim((word, PAIR, [2, 3], 0)), is_true((word, PAIR, [2, 3], 0))], [True, not wanted])
 
     def test_limits(self):
@@ -140,7 +152,8 @@ class Truth(unittest.TestCase):
         self.assertIs(is_true(("loose", EYES, [0, 1] * 200)), True)
         self.assertIs(is_true(("certain", ["ab", "ba"], "ab" * 200)), True)
         self.assertIs(is_true(("doubtful", ["ab", "ba"], "ab" * 199 + "bb")), True)
-        self.assertEqual([is_true(("cheap", PieceWeb(LONG).web(), [1] * 75, many)) for many in (431, 432)], [False, True])
+        self.assertEqual([is_true(("cheap", PieceWeb(LONG).web(), [1] * 75, many)) for many in (431, 432)],
+                         [False, True])
 
 
 class Papers(unittest.TestCase):
@@ -161,15 +174,18 @@ class Papers(unittest.TestCase):
             for told in (claim, other_one(claim)):
                 word, web = told[:2]
                 if word in ("cheap", "close", "loose"):
-                    papers = [list(tour) for many in (1, 2, 3, 4) for tour in product(range(min(3, web.many)), repeat=many)]
+                    papers = [list(tour) for many in (1, 2, 3, 4) for tour in product(range(min(3, web.many)),
+                        repeat=many)]
                 elif word in ("dear", "parted"):
-                    papers = [list(prices) for prices in product(range(-2, 4), repeat=web.places)] if web.places < 4 else []
+                    papers = [list(prices) for prices in product(range(-2, 4),
+                        repeat=web.places)] if web.places < 4 else []
                     papers += [[], [0], [0, 1], [1, 0], [0, 0]] if word == "parted" else []
                 elif word == "doubtful":
                     papers = ["".join(letters) for many in (1, 2, 3, 4) for letters in product("abc", repeat=many)]
                 else:
                     places = web.places if word == "sure" else len(PieceWeb(web).words())
-                    papers = [[(1, 1, lot)] for lot in ([], [0], [1], [0, 1]) if all(place < places for place in lot)] + [[]]
+                    papers = [[(1, 1, lot)] for lot in ([], [0], [1],
+                                                        [0, 1]) if all(place < places for place in lot)] + [[]]
                 for paper in papers:
                     fits = word != "dear" or len(paper) == web.places
                     fits = fits and (word != "parted" or all(0 <= place < web.places for place in paper))
@@ -250,6 +266,25 @@ class Papers(unittest.TestCase):
             self.assertIsNone(paper_of(("certain", LONG, text)))
         self.assertIs(is_paper_of(("certain", LONG, HOME), paper_of(("certain", LONG, HOME))), True)
         self.assertEqual([piece for piece, _ in ring_pieces("abacab", 2)], ["ab", "ac", "ba", "ca"])
+
+    def test_short_rings(self):
+        # Where the shortest ring has the text, the shorter one of two others is told.
+        steps, shorter = Steps(3), {"by detours": 0, "by reading along": 0}
+        for _ in range(60):
+            letters = "abcdefgh"[:2 + steps.below(7)]
+            pieces = [piece for piece, _ in ring_pieces("".join(letters[steps.below(len(letters))] for _ in range(40)),
+                                                        2)]
+            shop, ring = PieceWeb(pieces), shortest_ring(pieces)
+            text = (ring * 2)[steps.below(len(ring)):][:3 + steps.below(4)]
+            if len(text) < 3 or is_true(("certain", pieces, text)):
+                continue
+            walk, tour = shop.walk_of(text), shop.round_of(ring)
+            one = len(detoured(shop.web(), walk, road_around(shop.web(), walk), tour))
+            other = len(lacking_round(shop.web(), walk))
+            self.assertEqual(len(paper_of(("doubtful", pieces, text))), min(one, other))
+            shorter["by detours"] += one < other
+            shorter["by reading along"] += other < one
+        self.assertGreater(min(shorter.values()), 0)
 
     def test_new_papers(self):
         for claim in GOOD:

@@ -50,7 +50,8 @@ class Columns(unittest.TestCase):
             for times in (1, 2, 3, 7):
                 column = plain_column(ring * times)
                 self.assertEqual([is_column(column), ring_of_column(column)], [True, normal(ring * times)])
-        self.assertEqual([ring_of_column("aaaa"), ring_of_column("bbaa"), ring_of_column("a" * 400)], ["aaaa", "abab", "a" * 400])
+        self.assertEqual([ring_of_column("aaaa"), ring_of_column("bbaa"), ring_of_column("a" * 400)],
+                         ["aaaa", "abab", "a" * 400])
 
     def test_of_no_ring(self):
         # Rounds of formers that tell unlike rings; alike ones of unlike length are none.

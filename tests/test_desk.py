@@ -5,7 +5,8 @@ import unittest
 from suretexts.desk import Desk
 from suretexts.errors import (
     CommandFailed, FewTimes, InvalidClaim, InvalidCommand, InvalidCounts, InvalidDeeds, InvalidLeast, InvalidPieces,
-    InvalidSize, InvalidTexts, InvalidTimes, LabelTaken, NameTaken, NoRing, NotClose, NothingToRedo, NothingToUndo, NotRead,
+    InvalidSize, InvalidTexts, InvalidTimes, LabelTaken, NameTaken, NoRing, NotClose, NothingToRedo, NothingToUndo,
+    NotRead,
     TooMany, UnknownLabel, UnknownName, UnlikeSizes)
 from suretexts.lots import Lot
 from suretexts.pieces import PieceWeb
@@ -20,8 +21,10 @@ from tests.test_mending import all_pairs
 from tests.test_pieced import SIXTY
 
 WRONG_COMMANDS = ODD + NUMBERS + STRINGS + LISTS + [
-    "undo ", " undo", "lot p", "lot p 02", "lot p 1234567", "lot P 2", "lot p2345678q 2", "add p 1  a", "add p 1 a ", "add p 1",
-    "read p ab", "read p size 2\n", "claim k close p", "claim k sure p 1 " + ",".join(["0"] * 61), "help", ["undo"], ("undo",)]
+    "undo ", " undo", "lot p", "lot p 02", "lot p 1234567", "lot P 2", "lot p2345678q 2", "add p 1  a", "add p 1 a ",
+    "add p 1",
+    "read p ab", "read p size 2\n", "claim k close p", "claim k sure p 1 " + ",".join(["0"] * 61), "help", ["undo"],
+    ("undo",)]
 
 
 def desk_with(*lines):
@@ -33,7 +36,8 @@ def desk_with(*lines):
 
 def told_of(desk):
     """All that a desk tells, but for its papers."""
-    return [desk.names, desk.labels, [desk[name] for name in desk.names], [desk.claim_of(label) for label in desk.labels],
+    return [desk.names, desk.labels, [desk[name] for name in desk.names],
+            [desk.claim_of(label) for label in desk.labels],
             desk.do("states"), desk.lines(), len(desk), [desk.do(f"claimed {label}") for label in desk.labels],
             [desk.fits(label) for label in desk.labels]]
 
@@ -62,7 +66,8 @@ class Begin(unittest.TestCase):
 
     def test_names_in_it(self):
         desk = desk_with("lot p 2", "add p 3 ab")
-        self.assertEqual([desk["p"], "p" in desk, "q" in desk, "k" in desk, "P" in desk], [Lot(2, [("ab", 3)]), True] + [False] * 3)
+        self.assertEqual([desk["p"], "p" in desk, "q" in desk, "k" in desk, "P" in desk],
+                         [Lot(2, [("ab", 3)]), True] + [False] * 3)
         for value in ODD + NUMBERS + LISTS + ["", "q", "pp", ["p"], ("p",), b"p"]:
             self.assertIs(value in desk, False)
             check_fails(self, UnknownName, {"value": value}, lambda: desk[value])
@@ -87,11 +92,14 @@ class Deeds(unittest.TestCase):
     def test_lots(self):
         desk = Desk()
         for line, name, lot in (
-                ("lot p 2", "p", Lot(2, [])), ("add p 2 abac", "p", Lot(2, [("abac", 2)])), ("add p 20 -", "p", Lot(2, [("abac", 2), ("", 20)])),
-                ("take p 1 abac", "p", Lot(2, [("abac", 1), ("", 20)])), ("copy q p", "q", Lot(2, [("abac", 1), ("", 20)])),
+                ("lot p 2", "p", Lot(2, [])), ("add p 2 abac", "p", Lot(2, [("abac", 2)])),
+                ("add p 20 -", "p", Lot(2, [("abac", 2), ("", 20)])),
+                ("take p 1 abac", "p", Lot(2, [("abac", 1), ("", 20)])),
+                ("copy q p", "q", Lot(2, [("abac", 1), ("", 20)])),
                 ("take p 20 -", "p", Lot(2, [("abac", 1)])), ("both r p q", "r", Lot(2, [("abac", 2), ("", 20)])),
                 ("both s r r", "s", Lot(2, [("abac", 4), ("", 20), ("", 20)])),
-                ("read t size 3; read 1 -; read 7 ab", "t", Lot(3, [("ab", 7), ("", 1)])), ("read u size 8", "u", Lot(8, []))):
+                ("read t size 3; read 1 -; read 7 ab", "t", Lot(3, [("ab", 7), ("", 1)])),
+                ("read u size 8", "u", Lot(8, []))):
             self.assertEqual(desk.do(line), "-")
             self.assertEqual(desk[name], lot)
         self.assertEqual([desk.names, len(desk)], [["p", "q", "r", "s", "t", "u"], 10])
@@ -104,13 +112,17 @@ class Deeds(unittest.TestCase):
         for words, claim, state in (
                 ("certain p 1 bac", ("certain", ["ab", "ac", "ba", "ca"], "bac"), "true"),
                 ("doubtful p 1 bac", ("doubtful", ["ab", "ac", "ba", "ca"], "bac"), "false"),
-                ("sure p 1 0,2,1,3", ("sure", web, [0, 2, 1, 3]), "true"), ("loose p 1 2,0", ("loose", web, [2, 0]), "true"),
-                ("cheap p 1 3", ("cheap", web, [1] * 4, 3), "false"), ("cheap p 1 4", ("cheap", web, [1] * 4, 4), "true"),
+                ("sure p 1 0,2,1,3", ("sure", web, [0, 2, 1, 3]), "true"),
+                ("loose p 1 2,0", ("loose", web, [2, 0]), "true"),
+                ("cheap p 1 3", ("cheap", web, [1] * 4, 3), "false"),
+                ("cheap p 1 4", ("cheap", web, [1] * 4, 4), "true"),
                 ("dear p 1 3", ("dear", web, [1] * 4, 3), "true"), ("dear p 1 0", ("dear", web, [1] * 4, 0), "true"),
                 ("close p 1", ("close", web), "true"), ("parted p 1", ("parted", web), "false"),
-                ("close p 3", ("close", Web(2, [(0, 1)])), "false"), ("parted p 3", ("parted", Web(2, [(0, 1)])), "true")):
+                ("close p 3", ("close", Web(2, [(0, 1)])), "false"),
+                ("parted p 3", ("parted", Web(2, [(0, 1)])), "true")):
             self.assertEqual(desk.do(f"claim k {words}"), f"k {state}")
-            self.assertEqual([desk.claim_of("k"), desk.do("state k"), desk.do("states"), desk.do("claimed k"), desk.labels],
+            self.assertEqual([desk.claim_of("k"), desk.do("state k"), desk.do("states"), desk.do("claimed k"),
+                              desk.labels],
                              [claim, state, f"k {state}", words, ["k"]])
             self.assertEqual([desk.do("forget k"), desk.labels, desk.do("states")], ["-", [], "-"])
             check_fails(self, UnknownLabel, {"value": "k"}, desk.do, "state k")
@@ -120,7 +132,8 @@ class Changes(unittest.TestCase):
     def test_states_change(self):
         desk = desk_with("lot p 2", "add p 1 abaca", "lot q 2")
         self.assertEqual([desk.do(line) for line in (
-            "claim k certain p 1 bac", "claim b doubtful p 1 bab", "claim c close p 1", "claim d dear p 1 3", "states")],
+            "claim k certain p 1 bac", "claim b doubtful p 1 bab", "claim c close p 1", "claim d dear p 1 3",
+            "states")],
             ["k true", "b true", "c true", "d true", "b true, c true, d true, k true"])
         # Another lot says nothing; one more piece is a way out without a way back.
         self.assertEqual([desk.do(line) for line in ("add q 1 ab", "drop q", "add p 1 az")],
@@ -143,7 +156,8 @@ class Changes(unittest.TestCase):
                           ["lot p 2", "add p 1 aba", "claim c close p 1", "claim m cheap p 1 2"]])
 
     def test_gone(self):
-        desk = desk_with("read p size 2; read 2 aba", "claim c close p 2", "claim k certain p 2 ab", "claim s sure p 2 1,0",
+        desk = desk_with("read p size 2; read 2 aba", "claim c close p 2", "claim k certain p 2 ab",
+                         "claim s sure p 2 1,0",
                          "claim m cheap p 2 1")
         self.assertEqual(desk.do("states"), "c true, k true, m false, s true")
         # Nothing solid; no walk any more; a text with fewer letters than a piece.
@@ -151,35 +165,46 @@ class Changes(unittest.TestCase):
                          ["c gone, k gone, m gone, s gone", None, "c gone, k gone, m gone, s gone"])
         self.assertEqual([desk.do("add p 1 aa"), desk.do("add p 1 aa"), desk.claim_of("k"), desk.claim_of("s")],
                          ["-", "c true, k false, m true", ("certain", ["aa"], "ab"), None])
-        self.assertEqual([desk.do(line) for line in ("drop p", "read p size 3; read 2 abab", "undo", "lot p 2", "states")],
+        self.assertEqual([desk.do(line) for line in ("drop p", "read p size 3; read 2 abab", "undo", "lot p 2",
+                                                     "states")],
                          ["c gone, k gone, m gone", "c true, m false, s true", "read p size 3; read 2 abab", "-",
                           "c gone, k gone, m gone, s gone"])
 
     def test_noted_again(self):
         desk = desk_with("read p size 2; read 1 aba", "claim k close p 1")
-        self.assertEqual([desk.do("forget k"), desk.do("claim k parted p 1"), desk.do("claimed k"), desk.do("undo"), desk.do("undo"),
+        self.assertEqual([desk.do("forget k"), desk.do("claim k parted p 1"), desk.do("claimed k"), desk.do("undo"),
+                          desk.do("undo"),
                           desk.do("claimed k"), desk.do("state k")],
                          ["-", "k false", "parted p 1", "claim k parted p 1", "forget k", "close p 1", "true"])
 
     def test_names_do_not_hang_together(self):
         desk = desk_with("lot p 2", "add p 1 ab", "copy q p", "both r p q", "add p 1 ba", "drop p")
         self.assertEqual([desk["q"], desk["r"]], [Lot(2, [("ab", 1)]), Lot(2, [("ab", 2)])])
-        self.assertEqual([desk.do("add q 3 c"), desk["r"], desk.do("show q")], ["-", Lot(2, [("ab", 2)]), "size 2; read 1 ab; read 3 c"])
+        self.assertEqual([desk.do("add q 3 c"), desk["r"], desk.do("show q")],
+                         ["-", Lot(2, [("ab", 2)]), "size 2; read 1 ab; read 3 c"])
 
 
 class Answers(unittest.TestCase):
     def test_each(self):
-        desk = desk_with("read p size 2; read 2 -; read 1 abac; read 1 ca", "copy q p", "lot r 3", "read s size 2; read 3 abab; read 1 xyx",
+        desk = desk_with("read p size 2; read 2 -; read 1 abac; read 1 ca", "copy q p", "lot r 3",
+                         "read s size 2; read 3 abab; read 1 xyx",
                          "read t size 2; read 1 abc", "add q 1 ca")
         for command, answer in (
                 ("names", "p q r s t"), ("show p", "size 2; read 2 -; read 1 abac; read 1 ca"), ("show r", "size 3"),
-                ("same p q", "no"), ("same p p", "yes"), ("same r t", "no"), ("times p -", "2"), ("times p abac", "1"), ("times p zz", "0"),
-                ("pieces p", "ab 1, ac 1, ba 1, ca 1"), ("pieces q", "ab 1, ac 1, ba 1, ca 2"), ("pieces r", "-"), ("pieces s", "ab 6, ba 3, xy 1, yx 1"),
-                ("solid p 1", "ab ac ba ca"), ("solid q 2", "ca"), ("solid q 3", "-"), ("solid r 1", "-"), ("solid s 4", "ab"),
-                ("contigs p 1", "abaca acaba"), ("contigs s 1", "@ab @xy"), ("contigs s 3", "@ab"), ("contigs t 1", "-"),
-                ("shortest p 1", "4"), ("shortest s 3", "2"), ("rings p 1", "1"), ("rings q 1", "0"), ("rings t 1", "0"),
-                ("explains p 1 abac", "yes"), ("explains p 1 caba", "yes"), ("explains p 1 ab", "no"), ("explains s 3 abab", "yes"),
-                ("again p", "a"), ("again s", "ab"), ("again t", "-"), ("normal cab", "abc"), ("normal " + "ba" * 200, "ab" * 200),
+                ("same p q", "no"), ("same p p", "yes"), ("same r t", "no"), ("times p -", "2"), ("times p abac", "1"),
+                ("times p zz", "0"),
+                ("pieces p", "ab 1, ac 1, ba 1, ca 1"), ("pieces q", "ab 1, ac 1, ba 1, ca 2"), ("pieces r", "-"),
+                ("pieces s", "ab 6, ba 3, xy 1, yx 1"),
+                ("solid p 1", "ab ac ba ca"), ("solid q 2", "ca"), ("solid q 3", "-"), ("solid r 1", "-"),
+                ("solid s 4", "ab"),
+                ("contigs p 1", "abaca acaba"), ("contigs s 1", "@ab @xy"), ("contigs s 3", "@ab"),
+                ("contigs t 1", "-"),
+                ("shortest p 1", "4"), ("shortest s 3", "2"), ("rings p 1", "1"), ("rings q 1", "0"),
+                ("rings t 1", "0"),
+                ("explains p 1 abac", "yes"), ("explains p 1 caba", "yes"), ("explains p 1 ab", "no"),
+                ("explains s 3 abab", "yes"),
+                ("again p", "a"), ("again s", "ab"), ("again t", "-"), ("normal cab", "abc"),
+                ("normal " + "ba" * 200, "ab" * 200),
                 ("column abac", "cbaa"), ("column a", "a"), ("ring cbaa", "abac"), ("ring bbaa", "abab")):
             self.assertEqual([command, desk.do(command), desk(command)], [command, answer, answer])
         self.assertEqual(len(desk), 6)
@@ -193,20 +218,24 @@ class Answers(unittest.TestCase):
                          ["1", "2", "@ab", "a"])
 
     def test_errors_of_what_tells(self):
-        desk = desk_with("lot e 2", "read o size 2; read 1 ab", "read m size 2; read 13 ab; read 1 ba", "lot l 2", "lot s 2")
+        desk = desk_with("lot e 2", "read o size 2; read 1 ab", "read m size 2; read 13 ab; read 1 ba", "lot l 2",
+                         "lot s 2")
         for text in TEXTS[:21]:
             desk.do(f"add l 1 {text}")
         desk.do("add s 1 " + "a" * 400)
         for command, error, attributes in (
-                ("solid o 0", InvalidLeast, {"value": 0}), ("contigs o 0", InvalidLeast, {"value": 0}), ("rings e 0", InvalidLeast, {"value": 0}),
+                ("solid o 0", InvalidLeast, {"value": 0}), ("contigs o 0", InvalidLeast, {"value": 0}),
+                ("rings e 0", InvalidLeast, {"value": 0}),
                 ("shortest o 0", InvalidLeast, {"value": 0}), ("explains e 0 ab", InvalidLeast, {"value": 0}),
                 ("contigs e 1", InvalidPieces, {"value": []}), ("contigs o 2", InvalidPieces, {"value": []}),
                 ("shortest e 1", InvalidPieces, {"value": []}), ("rings e 1", InvalidPieces, {"value": []}),
                 ("explains e 1 ab", InvalidPieces, {"value": []}), ("shortest o 1", NotClose, {}),
                 ("rings m 1", InvalidCounts, {"value": [13, 1]}), ("again e", InvalidTexts, {"value": []}),
                 ("again l", InvalidTexts, {"value": sorted(TEXTS[:21])}), ("ring ab", NoRing, {}),
-                ("state k", UnknownLabel, {"value": "k"}), ("claimed p", UnknownLabel, {"value": "p"}), ("show p", UnknownName, {"value": "p"}),
-                ("same e p", UnknownName, {"value": "p"}), ("same q p", UnknownName, {"value": "q"}), ("solid q 0", UnknownName, {"value": "q"})):
+                ("state k", UnknownLabel, {"value": "k"}), ("claimed p", UnknownLabel, {"value": "p"}),
+                ("show p", UnknownName, {"value": "p"}),
+                ("same e p", UnknownName, {"value": "p"}), ("same q p", UnknownName, {"value": "q"}),
+                ("solid q 0", UnknownName, {"value": "q"})):
             held = held_by(desk)
             check_fails(self, error, attributes, desk.do, command)
             check_fails(self, error, attributes, desk, command)
@@ -216,8 +245,10 @@ class Answers(unittest.TestCase):
         check_fails(self, InvalidTexts, {"value": ["a" * 400, "b"]}, desk.do, "again s")
 
     def test_many_pieces(self):
-        desk = desk_with("lot p 2", f"add p 1 {all_pairs()}", "lot q 4", f"add q 1 {SIXTY + SIXTY[:3]}", "claim c close q 1", "add q 1 zzzz")
-        self.assertEqual([desk.do("state c"), desk.do("solid p 2"), len(desk.do("solid p 1"))], ["gone", "-", 81 * 3 - 1])
+        desk = desk_with("lot p 2", f"add p 1 {all_pairs()}", "lot q 4", f"add q 1 {SIXTY + SIXTY[:3]}",
+                         "claim c close q 1", "add q 1 zzzz")
+        self.assertEqual([desk.do("state c"), desk.do("solid p 2"), len(desk.do("solid p 1"))],
+                         ["gone", "-", 81 * 3 - 1])
         for name in ("p", "q"):
             solid = desk[name].solid(1)
             for command in (f"contigs {name} 1", f"claim k close {name} 1", f"shortest {name} 1", f"rings {name} 1",
@@ -237,13 +268,20 @@ class Failing(unittest.TestCase):
         desk = desk_with("lot p 2", "read q size 3; read 1 abcab", "add p 2 aba", "claim k close p 1", "add p 1 c")
         desk.do("undo")
         for line, error, attributes in (
-                ("lot p 9", NameTaken, {"name": "p"}), ("lot k 9", InvalidSize, {"value": 9}), ("lot r 1", InvalidSize, {"value": 1}),
-                ("read p size 2", NameTaken, {"name": "p"}), ("both p x y", NameTaken, {"name": "p"}), ("both r x y", UnknownName, {"value": "x"}),
-                ("both r p y", UnknownName, {"value": "y"}), ("both r r p", UnknownName, {"value": "r"}), ("both r p q", UnlikeSizes, {}),
-                ("copy p x", NameTaken, {"name": "p"}), ("copy r r", UnknownName, {"value": "r"}), ("drop k", UnknownName, {"value": "k"}),
-                ("add k 21 a", UnknownName, {"value": "k"}), ("add p 21 a", InvalidTimes, {"value": 21}), ("add p 0 a", InvalidTimes, {"value": 0}),
-                ("take p 21 zz", InvalidTimes, {"value": 21}), ("take p 1 zz", NotRead, {"text": "zz"}), ("take p 1 -", NotRead, {"text": ""}),
-                ("take p 3 aba", FewTimes, {}), ("claim k close x 0", LabelTaken, {"label": "k"}), ("claim m close x 0", UnknownName, {"value": "x"}),
+                ("lot p 9", NameTaken, {"name": "p"}), ("lot k 9", InvalidSize, {"value": 9}),
+                ("lot r 1", InvalidSize, {"value": 1}),
+                ("read p size 2", NameTaken, {"name": "p"}), ("both p x y", NameTaken, {"name": "p"}),
+                ("both r x y", UnknownName, {"value": "x"}),
+                ("both r p y", UnknownName, {"value": "y"}), ("both r r p", UnknownName, {"value": "r"}),
+                ("both r p q", UnlikeSizes, {}),
+                ("copy p x", NameTaken, {"name": "p"}), ("copy r r", UnknownName, {"value": "r"}),
+                ("drop k", UnknownName, {"value": "k"}),
+                ("add k 21 a", UnknownName, {"value": "k"}), ("add p 21 a", InvalidTimes, {"value": 21}),
+                ("add p 0 a", InvalidTimes, {"value": 0}),
+                ("take p 21 zz", InvalidTimes, {"value": 21}), ("take p 1 zz", NotRead, {"text": "zz"}),
+                ("take p 1 -", NotRead, {"text": ""}),
+                ("take p 3 aba", FewTimes, {}), ("claim k close x 0", LabelTaken, {"label": "k"}),
+                ("claim m close x 0", UnknownName, {"value": "x"}),
                 ("claim m close p 0", InvalidLeast, {"value": 0}), ("claim m close p 3", InvalidPieces, {"value": []}),
                 ("claim p sure p 1 0,0", InvalidClaim, {"value": ("sure", desk.claim_of("k")[1], [0, 0])}),
                 ("claim m loose p 1 2", InvalidClaim, {"value": ("loose", desk.claim_of("k")[1], [2])}),
@@ -266,15 +304,18 @@ class Failing(unittest.TestCase):
         desk = desk_with(*[f"lot p{at} 2" for at in range(8)], "add p0 1 aba")
         for line, error, attributes in (
                 ("lot q 2", TooMany, {"what": "names", "limit": 8}), ("lot q 9", InvalidSize, {"value": 9}),
-                ("copy q p1", TooMany, {"what": "names", "limit": 8}), ("both q p1 p2", TooMany, {"what": "names", "limit": 8}),
+                ("copy q p1", TooMany, {"what": "names", "limit": 8}),
+                ("both q p1 p2", TooMany, {"what": "names", "limit": 8}),
                 ("read q size 2", TooMany, {"what": "names", "limit": 8}), ("lot p0 2", NameTaken, {"name": "p0"})):
             self.check(desk, line, error, attributes)
-        self.assertEqual([desk.do("add p7 1 a"), desk.do("drop p0"), desk.do("lot q 2"), len(desk.names)], ["-", "-", "-", 8])
+        self.assertEqual([desk.do("add p7 1 a"), desk.do("drop p0"), desk.do("lot q 2"), len(desk.names)],
+                         ["-", "-", "-", 8])
 
     def test_eight_labels(self):
         desk = desk_with("read p size 2; read 1 aba", *[f"claim k{at} close p 1" for at in range(8)])
         for line, error, attributes in (
-                ("claim m close p 1", TooMany, {"what": "labels", "limit": 8}), ("claim m close p 2", InvalidPieces, {"value": []}),
+                ("claim m close p 1", TooMany, {"what": "labels", "limit": 8}),
+                ("claim m close p 2", InvalidPieces, {"value": []}),
                 ("claim m sure p 1 0,0", InvalidClaim, {"value": ("sure", desk.claim_of("k0")[1], [0, 0])}),
                 ("claim k0 close p 1", LabelTaken, {"label": "k0"})):
             self.check(desk, line, error, attributes)
@@ -284,9 +325,12 @@ class Failing(unittest.TestCase):
         desk = desk_with("lot p 2", *["add p 1 a", "take p 1 a"] * 99, "add p 1 aba")
         self.assertEqual([len(desk), len(desk.lines())], [200, 200])
         for at, (line, error, attributes) in enumerate((
-                ("add p 1 b", TooMany, {"what": "deeds", "limit": 200}), ("lot q 2", TooMany, {"what": "deeds", "limit": 200}),
-                ("claim k close p 1", TooMany, {"what": "deeds", "limit": 200}), ("drop p", TooMany, {"what": "deeds", "limit": 200}),
-                ("take p 1 b", NotRead, {"text": "b"}), ("lot p 2", NameTaken, {"name": "p"}), ("forget k", UnknownLabel, {"value": "k"}))):
+                ("add p 1 b", TooMany, {"what": "deeds", "limit": 200}),
+                ("lot q 2", TooMany, {"what": "deeds", "limit": 200}),
+                ("claim k close p 1", TooMany, {"what": "deeds", "limit": 200}),
+                ("drop p", TooMany, {"what": "deeds", "limit": 200}),
+                ("take p 1 b", NotRead, {"text": "b"}), ("lot p 2", NameTaken, {"name": "p"}),
+                ("forget k", UnknownLabel, {"value": "k"}))):
             if at:
                 check_fails(self, error, attributes, desk.do, line)
             else:
@@ -314,7 +358,8 @@ class Failing(unittest.TestCase):
 class UndoAndRedo(unittest.TestCase):
     def test_lines(self):
         desk = desk_with("lot p 2", "add p 1 a", "add p 1 b")
-        self.assertEqual([desk.do("undo"), desk.do("undo"), desk.lines(), len(desk)], ["add p 1 b", "add p 1 a", ["lot p 2"], 1])
+        self.assertEqual([desk.do("undo"), desk.do("undo"), desk.lines(), len(desk)],
+                         ["add p 1 b", "add p 1 a", ["lot p 2"], 1])
         self.assertEqual([desk.do("redo"), desk.do("show p"), desk.do("redo"), desk.lines()],
                          ["add p 1 a", "size 2; read 1 a", "add p 1 b", ["lot p 2", "add p 1 a", "add p 1 b"]])
         check_fails(self, NothingToRedo, {}, desk.do, "redo")
@@ -336,7 +381,8 @@ class UndoAndRedo(unittest.TestCase):
     def test_told_lists_are_new(self):
         desk = desk_with("read p size 2; read 1 aba", "claim k sure p 1 0,1", "claim m certain p 1 ab")
         held = held_by(desk)
-        for told in (desk.names, desk.labels, desk.lines(), desk.claim_of("k")[2], desk.claim_of("m")[1], desk["p"].readings()):
+        for told in (desk.names, desk.labels, desk.lines(), desk.claim_of("k")[2], desk.claim_of("m")[1],
+                     desk["p"].readings()):
             told.append(7)
         self.assertEqual(held_by(desk), held)
 
@@ -344,7 +390,8 @@ class UndoAndRedo(unittest.TestCase):
 class SeveralCommands(unittest.TestCase):
     def test_all(self):
         desk = Desk()
-        self.assertEqual([desk.do_all(), desk.do_all("lot p 2", "add p 1 aba", "claim c close p 1", "undo", "redo", "states", "names")],
+        self.assertEqual([desk.do_all(), desk.do_all("lot p 2", "add p 1 aba", "claim c close p 1", "undo", "redo",
+                                                     "states", "names")],
                          [[], ["-", "-", "c true", "claim c close p 1", "claim c close p 1", "c true", "p"]])
         self.assertEqual(desk.lines(), ["lot p 2", "add p 1 aba", "claim c close p 1"])
 
@@ -352,10 +399,12 @@ class SeveralCommands(unittest.TestCase):
         desk = desk_with("lot p 2", "add p 1 aba", "claim c close p 1", "add p 1 x")
         desk.do("undo")
         for commands, position, cause, attributes in (
-                (("add p 1 b", "take p 1 z", "drop p"), 1, NotRead, {"text": "z"}), (("lot p 2",), 0, NameTaken, {"name": "p"}),
+                (("add p 1 b", "take p 1 z", "drop p"), 1, NotRead, {"text": "z"}),
+                (("lot p 2",), 0, NameTaken, {"name": "p"}),
                 (("drop p", "show p"), 1, UnknownName, {"value": "p"}), (("undo",) * 4, 3, NothingToUndo, {}),
                 (("redo", "redo"), 1, NothingToRedo, {}), (("add p 1 b", None), 1, InvalidCommand, {"value": None}),
-                (("forget c", "state c"), 1, UnknownLabel, {"value": "c"}), (("add p 1 b", "undo", "redo", "nothing"), 3, InvalidCommand, {"value": "nothing"}),
+                (("forget c", "state c"), 1, UnknownLabel, {"value": "c"}),
+                (("add p 1 b", "undo", "redo", "nothing"), 3, InvalidCommand, {"value": "nothing"}),
                 (("take p 1 aba", "claim k close p 1"), 1, InvalidPieces, {"value": []}), (("ring ab",), 0, NoRing, {}),
                 (("add p 1 ab",) * 198, 197, TooMany, {"what": "deeds", "limit": 200})):
             held = held_by(desk)
@@ -418,17 +467,23 @@ class Copies(unittest.TestCase):
 
 class Book(unittest.TestCase):
     COMMANDS = [
-        "lot {p} 2", "lot {p} 3", "lot {p} 9", "read {p} size 2; read 2 aba", "read {p} size 2; read 1 abaca; read 1 bb",
-        "add {p} 1 abac", "add {p} 1 ca", "add {p} 2 aba", "add {p} 1 -", "add {p} 1 bb", "add {p} 1 xy", "add {p} 21 a", "take {p} 1 ca",
-        "take {p} 1 abac", "take {p} 2 aba", "take {p} 1 xy", "both {p} {q} {r}", "copy {p} {q}", "drop {p}", "drop {p}",
-        "claim {k} certain {p} 1 bac", "claim {k} doubtful {p} 1 aba", "claim {k} sure {p} 1 0,1", "claim {k} loose {p} 1 0,2",
-        "claim {k} cheap {p} 1 4", "claim {k} dear {p} 2 2", "claim {k} close {p} 1", "claim {k} parted {p} 2", "claim {k} close {p} 0",
+        "lot {p} 2", "lot {p} 3", "lot {p} 9", "read {p} size 2; read 2 aba",
+        "read {p} size 2; read 1 abaca; read 1 bb",
+        "add {p} 1 abac", "add {p} 1 ca", "add {p} 2 aba", "add {p} 1 -", "add {p} 1 bb", "add {p} 1 xy",
+        "add {p} 21 a", "take {p} 1 ca",
+        "take {p} 1 abac", "take {p} 2 aba", "take {p} 1 xy", "both {p} {q} {r}", "copy {p} {q}", "drop {p}",
+        "drop {p}",
+        "claim {k} certain {p} 1 bac", "claim {k} doubtful {p} 1 aba", "claim {k} sure {p} 1 0,1",
+        "claim {k} loose {p} 1 0,2",
+        "claim {k} cheap {p} 1 4", "claim {k} dear {p} 2 2", "claim {k} close {p} 1", "claim {k} parted {p} 2",
+        "claim {k} close {p} 0",
         "forget {k}", "undo", "undo", "undo", "redo", "redo"]
 
     def check_told(self, desk, lines):
         lots, claims = book.replay(lines)
         states = {label: book.state_of(lots, words) for label, words in claims.items()}
-        self.assertEqual([desk.names, desk.labels, desk.lines(), len(desk)], [sorted(lots), sorted(claims), lines, len(lines)])
+        self.assertEqual([desk.names, desk.labels, desk.lines(), len(desk)],
+                         [sorted(lots), sorted(claims), lines, len(lines)])
         for name, (size, times) in lots.items():
             self.assertEqual(desk[name], book.plain_lot(size, times))
         for label, words in claims.items():
@@ -464,7 +519,8 @@ class Book(unittest.TestCase):
             for at in range(110):
                 names = [["p", "q", "r"][steps.below(3)] for _ in range(3)]
                 # Lots to begin with, and then claims more often than by chance.
-                command = self.COMMANDS[steps.below(12) if at < 12 else 20 + steps.below(8) if at % 5 == 0 else steps.below(len(self.COMMANDS))]
+                some = self.COMMANDS[:12] if at < 12 else self.COMMANDS[20:28] if at % 5 == 0 else self.COMMANDS
+                command = some[steps.below(len(some))]
                 command = command.format(p=names[0], q=names[1], r=names[2], k="kmn"[steps.below(3)])
                 ahead = len(lines)
                 self.check_step(desk, lines, back, command)

@@ -10,7 +10,8 @@ WRONG_TEXT_LISTS = ODD + NUMBERS + STRINGS + [value for value in LISTS if value 
     "ab", {"ab": 1}, [""] * 21, ("a",) * 21, ["a"] * 400, ["a" * 401], ["a" * 200, "", "b" * 201], ("a" * 400, "a"),
     ["ab", "aB"], ["ab", True], ["ab", None], ["ab", 1], [["ab"]], [("ab",)], ["ab", b"ab"], ["a b"], ["ab\n"], ["-"]]
 
-LOTS = [["cabab", "ab"], ["abc"], [""], ["", "", "a"], ["aa", "aa", "aa"], ["banana", "an", "nab", ""], ["aaaa", "aab", "baa"],
+LOTS = [["cabab", "ab"], ["abc"], [""], ["", "", "a"], ["aa", "aa", "aa"], ["banana", "an", "nab", ""],
+        ["aaaa", "aab", "baa"],
         ["ab", "abab", "ababab"], ["abcabcabc", "cab"], words("ab", 2), ["c", "b", "a"], ["xyz" * 20, "zyx" * 20]]
 SOUGHT = words("abc", 3) + ["abab", "banana", "bananas", "nana", "aaaaa", "z" * 400, "xyzxyz"]
 
@@ -39,7 +40,8 @@ class Rows(unittest.TestCase):
             found = Finder(texts)
             rows = plain_rows(texts)
             self.assertEqual([found.texts(), found.rows()], [texts, rows])
-            self.assertEqual(found.last_letters(), [texts[number][place - 1] if place else "" for number, place in rows])
+            self.assertEqual(found.last_letters(), [texts[number][place - 1] if place else "" for number,
+                                                    place in rows])
             self.assertEqual(Finder(tuple(texts)).rows(), rows)
 
     def test_alike_by_themselves(self):
@@ -81,7 +83,8 @@ class Words(unittest.TestCase):
 
     def test_bounds(self):
         found = Finder(["b", "abc", "ab", "c"])
-        self.assertEqual([found.stretch_of(word) for word in ("a", "ab", "abc", "abcd", "b", "bc", "c", "d", "aa", "ba")],
+        self.assertEqual([found.stretch_of(word) for word in ("a", "ab", "abc", "abcd", "b", "bc", "c", "d", "aa",
+            "ba")],
                          [(0, 2), (0, 2), (1, 2), None, (2, 5), (4, 5), (5, 7), None, None, None])
 
 
@@ -119,7 +122,8 @@ class Finders(unittest.TestCase):
         texts = ["ab", "b"]
         found = Finder(texts)
         texts.append("c")
-        for told in (found.texts(), found.rows(), found.last_letters(), found.places_of("b"), plain_places(["ab"], "a")):
+        for told in (found.texts(), found.rows(), found.last_letters(), found.places_of("b"),
+                     plain_places(["ab"], "a")):
             told.append(7)
         self.assertEqual([found.texts(), found.rows(), found.last_letters(), found.places_of("b")],
                          [["ab", "b"], [(0, 0), (0, 1), (1, 0)], ["", "a", ""], [(0, 1), (1, 0)]])

@@ -74,12 +74,14 @@ class Papers(unittest.TestCase):
             shop = PieceWeb(pieces)
             web, prices = shop.web(), [1] * len(pieces)
             claims = [("certain", pieces, text) for text in words("ab", 4, 3)] + [("close", web)]
-            claims += [("sure", web, shop.walk_of(text)) for text in words("ab", 4, 3) if shop.walk_of(text) is not None]
+            claims += [("sure", web, shop.walk_of(text)) for text in words("ab", 4,
+                3) if shop.walk_of(text) is not None]
             claims += [("cheap", web, prices, many) for many in (0, len(pieces), len(pieces) + 1, 99)]
             for claim in claims:
                 one, other = paper_of(claim), paper_of(contrary(claim))
                 self.assertEqual([one is None, is_paper_of(claim, one)], [not is_true(claim), is_true(claim)])
-                self.assertEqual([other is None, is_paper_of(contrary(claim), other)], [is_true(claim), not is_true(claim)])
+                self.assertEqual([other is None, is_paper_of(contrary(claim), other)],
+                                 [is_true(claim), not is_true(claim)])
                 self.assertEqual([is_paper_of(claim, other), is_paper_of(contrary(claim), one)], [False, False])
 
     def test_all_of_them(self):
@@ -106,7 +108,8 @@ class Least(unittest.TestCase):
             for prices in ([1] * web.many, [1 + 7 * tie % 20 for tie in range(web.many)]):
                 least = price_of(web, prices, least_round(web, prices))
                 paper = price_paper(web, prices)
-                self.assertEqual([is_price_paper(web, prices, paper, many) for many in (least, least + 1)], [True, False])
+                self.assertEqual([is_price_paper(web, prices, paper, many) for many in (least, least + 1)],
+                                 [True, False])
 
 
 class Counted(unittest.TestCase):

@@ -58,7 +58,8 @@ CLASSES = {
     ("pieces", "PieceWeb(pieces)"): "web() pieces() words() word_at(place) letter_of(tie) text_of(walk) ring_of(tour)"
                                     " walk_of(text) round_of(ring) __eq__(other)",
     ("folds", "Folding(web)"): "web() folded() kept() stretches()",
-    ("keeper", "Keeper(size, least)"): "least() added(text, times) taken(text, times) undone() redone() lot() solid() log()"
+    ("keeper",
+     "Keeper(size, least)"): "least() added(text, times) taken(text, times) undone() redone() lot() solid() log()"
                                        " clusters() contigs() reckoned() copy()",
     ("finder", "Finder(texts)"): "texts() rows() last_letters() stretch_of(word) places_of(word) how_often(word)"
                                  " longest_again() __eq__(other)",

@@ -70,7 +70,8 @@ class Deeds(unittest.TestCase):
         self.assertEqual([keeper.added("abab", 1), keeper.added("", 20), keeper.taken("abab", 1), keeper.taken("", 19)],
                          [None] * 4)
         self.assertEqual(keeper.lot(), Lot(2, [("", 1)]))
-        self.assertEqual(keeper.log(), [("added", "abab", 1), ("added", "", 20), ("taken", "abab", 1), ("taken", "", 19)])
+        self.assertEqual(keeper.log(), [("added", "abab", 1), ("added", "", 20), ("taken", "abab", 1),
+                                        ("taken", "", 19)])
 
     def test_undone_and_redone(self):
         keeper = Keeper(2, 1)
@@ -83,7 +84,8 @@ class Deeds(unittest.TestCase):
         self.assertEqual([keeper.redone(), keeper.redone()], [("added", "ba", 1), ("taken", "ab", 1)])
         self.assertEqual(told_of(keeper), told)
         check_fails(self, NothingToRedo, {}, keeper.redone)
-        self.assertEqual([keeper.undone() for _ in range(3)], [("taken", "ab", 1), ("added", "ba", 1), ("added", "ab", 2)])
+        self.assertEqual([keeper.undone() for _ in range(3)],
+                         [("taken", "ab", 1), ("added", "ba", 1), ("added", "ab", 2)])
         check_fails(self, NothingToUndo, {}, keeper.undone)
         self.assertEqual([keeper.lot(), keeper.log(), keeper.redone()], [Lot(2, []), [], ("added", "ab", 2)])
 
@@ -106,7 +108,8 @@ class Deeds(unittest.TestCase):
         for error, attributes, call, args in (
                 (NotRead, {"text": "ba"}, keeper.taken, ("ba", 1)), (NotRead, {"text": ""}, keeper.taken, ("", 1)),
                 (FewTimes, {}, keeper.taken, ("ab", 3)), (FewTimes, {}, keeper.taken, ("ab", 20)),
-                (InvalidText, {"value": "A"}, keeper.added, ("A", 0)), (InvalidTimes, {"value": 21}, keeper.added, ("ab", 21)),
+                (InvalidText, {"value": "A"}, keeper.added, ("A", 0)),
+                (InvalidTimes, {"value": 21}, keeper.added, ("ab", 21)),
                 (InvalidTimes, {"value": True}, keeper.taken, ("ab", True))):
             check_fails(self, error, attributes, call, *args)
             self.assertEqual(state_of(keeper), held)
@@ -143,7 +146,8 @@ class Deeds(unittest.TestCase):
 
 class Clusters(unittest.TestCase):
     def test_parts(self):
-        for text, wanted in (("abac", [["ab", "ba"]]), ("abacaxyxz", [["ab", "ac", "ba", "ca"], ["xy", "yx"]]), ("abc", []),
+        for text, wanted in (("abac", [["ab", "ba"]]), ("abacaxyxz", [["ab", "ac", "ba", "ca"], ["xy", "yx"]]),
+                             ("abc", []),
                              ("aabb", [["aa"], ["bb"]]), ("", []), ("abcab", [["ab", "bc", "ca"]]), ("aaaa", [["aa"]])):
             keeper = Keeper(2, 1)
             keeper.added(text, 1)
@@ -182,7 +186,8 @@ class Clusters(unittest.TestCase):
                          [[["ab", "ac", "ba", "bx", "ca", "xy", "ya", "yx"]], True, 3])
         keeper.taken("bx", 1)
         self.assertEqual([keeper.clusters(), keeper.contigs(), keeper.reckoned()],
-                         [[["ab", "ac", "ba", "ca"], ["xy", "yx"]], [("abaca", False), ("acaba", False), ("xy", True)], 5])
+                         [[["ab", "ac", "ba", "ca"], ["xy", "yx"]], [("abaca", False), ("acaba", False), ("xy", True)],
+                          5])
         keeper.taken("abaca", 1)
         keeper.added("aba", 1)
         self.assertEqual([keeper.contigs(), keeper.reckoned()], [[("ab", True), ("xy", True)], 6])

@@ -113,7 +113,8 @@ class Language(unittest.TestCase):
             for node in tree.body:
                 self.assertIsInstance(node, (ast.Expr, ast.ImportFrom, ast.FunctionDef, ast.ClassDef, ast.Assign))
                 if isinstance(node, (ast.Expr, ast.Assign)):
-                    self.check_plain(node.value, [other.name for other in tree.body if isinstance(other, ast.FunctionDef)])
+                    self.check_plain(node.value, [other.name for other in tree.body if isinstance(other,
+                        ast.FunctionDef)])
             names = defined(tree) + [alias.name for node in imports(tree) for alias in node.names]
             self.assertEqual(len(names), len(set(names)))
 

@@ -90,6 +90,11 @@ class Keeps(unittest.TestCase):
         self.assertIs(keeps_mate(EYES, [0] * 100 + [1], (0, 1, 60, 60)), True)
         self.assertIs(keeps_mate(EYES, [1] + [0] * 61, (1, 1, 1, 60)), False)
 
+    def test_long_rounds(self):
+        tour = [0] * 199999 + [1]
+        self.assertEqual(broken_mates(EYES, tour, [(1, 1, 1, 60), (0, 1, 60, 60), (1, 0, 60, 60), (0, 0, 1, 1)] * 5),
+                         [0, 4, 8, 12, 16])
+
     def test_a_tie_that_is_not_there(self):
         self.assertEqual([keeps_mate(EYES, [0], mate) for mate in ((0, 1, 1, 60), (1, 0, 1, 60), (1, 1, 1, 60))],
                          [False, False, False])
@@ -149,10 +154,12 @@ class Mated(unittest.TestCase):
 
     def test_needless_one_by_one_but_not_together(self):
         mate = (0, 0, 1, 1)
-        self.assertEqual([needless_mates(EYES, [2, 2], [mate]), needless_mates(EYES, [2, 2], [mate, mate])], [[], [0, 1]])
+        self.assertEqual([needless_mates(EYES, [2, 2], [mate]), needless_mates(EYES, [2, 2], [mate, mate])],
+                         [[], [0, 1]])
         # Two of a kind side by side are so of either tie.
         both = [(0, 0, 1, 1), (1, 1, 1, 1)]
-        self.assertEqual([needless_mates(EYES, [2, 2], both), mated_rounds(EYES, [2, 2], both)], [[0, 1], [[0, 0, 1, 1]]])
+        self.assertEqual([needless_mates(EYES, [2, 2], both), mated_rounds(EYES, [2, 2], both)],
+                         [[0, 1], [[0, 0, 1, 1]]])
         self.assertEqual(mated_rounds(EYES, [2, 2], []), [[0, 0, 1, 1], [0, 1, 0, 1]])
 
     def test_alike_mates(self):
@@ -173,7 +180,8 @@ class Mated(unittest.TestCase):
         for web, counts in webs:
             mates = [(0, 0, 1, 1)] * 2
             self.assertEqual([mated_rounds(web, counts, mates), mated_rounds(web, counts, []),
-                              needless_mates(web, counts, mates), needless_mates(web, counts, [])], [[], [], [0, 1], []])
+                              needless_mates(web, counts, mates), needless_mates(web, counts, [])],
+                              [[], [], [0, 1], []])
             for told in ([], mates):
                 check_fails(self, NoRounds, {}, fewest_broken, web, counts, told)
                 check_fails(self, NoRounds, {}, sure_mated, web, counts, told, [0])
@@ -194,7 +202,8 @@ class Mated(unittest.TestCase):
         mates = [(1, 1, 2, 2)] + [(1, 0, apart, apart) for apart in range(1, 12)] + [(0, 0, 1, 60)] * 8
         told = plain = all_rounds(EYES, [12, 4])
         self.assertEqual(mated_rounds(EYES, [12, 4], mates), [tour for tour in plain if not are_broken(tour, mates)])
-        self.assertEqual(fewest_broken(EYES, [12, 4], mates[::-1])[0], min(len(are_broken(tour, mates)) for tour in told))
+        self.assertEqual(fewest_broken(EYES, [12, 4], mates[::-1])[0],
+                         min(len(are_broken(tour, mates)) for tour in told))
 
     def test_new_lists(self):
         mates = [(0, 0, 1, 1)]

@@ -185,7 +185,8 @@ class Mendings(unittest.TestCase):
         good = ([0, 1], [("keep", 0), ("turn", 1)])
         values = ODD + NUMBERS + STRINGS + LISTS + changed(good, ODD + NUMBERS + STRINGS + LISTS) + [
             (), (good,), good + ([],), ([0, 1],), list(good), ([0, 1], {}), ([0, 1], [["keep", 0], ("turn", 1)]),
-            ([0, 1], [("keep", 0, 0), ("turn", 1)]), ([0, 1], [("keep",), ("turn", 1)]), ([0, 1], [("out", 0), ("turn", 1)]),
+            ([0, 1], [("keep", 0, 0), ("turn", 1)]), ([0, 1], [("keep",), ("turn", 1)]),
+            ([0, 1], [("out", 0), ("turn", 1)]),
             ([0, 1], [(), ("turn", 1)]), ([0, 1], [("stay", 0), ("turn", 1)]), ([0, 1], [("keep", False), ("turn", 1)]),
             ([0, 1], [("keep", 0), ("turn", True)]), ([False, 1], good[1]), ([0, True], good[1]), good[::-1]]
         for value in values:
@@ -249,7 +250,8 @@ class Papers(unittest.TestCase):
         paper = [[0, 0], [1, 0], [1, 1]]
         rows = [paper[:2], paper + [[1, 1]], [row + [0] for row in paper], [row[:1] for row in paper],
                 [[0, 0], [1, 0, 0], [1, 1]], [[0, 0], [1, 0], [1]], [[0, 0], [], [1, 1]], [[0, 1], [1, 0], [1, 1]],
-                [[0, 0], [1, 0], [2, 1]], [[0, 0], [2, 0], [1, 1]], [[0, 0], [1, 0], [1, HUGE]], [[0, 0], [-1, 0], [1, 1]],
+                [[0, 0], [1, 0], [2, 1]], [[0, 0], [2, 0], [1, 1]], [[0, 0], [1, 0], [1, HUGE]],
+                [[0, 0], [-1, 0], [1, 1]],
                 [[0, 0], [True, 0], [1, 1]], [[0, False], [1, 0], [1, 1]], [[0, 0], [1, 0], [1, True]], [[], [], []]]
         values = ODD + NUMBERS + STRINGS + LISTS + rows + changed(paper, ODD + NUMBERS + STRINGS + LISTS)
         for value in values:

@@ -14,10 +14,12 @@ from tests.webs import FEW, SMALL, plainly_sure, walks
 
 SORTS = ["web", "walk", "yes", "ranks"]
 PAIR = Web(2, [(0, 1), (1, 0)])
-GOOD = {"web": PAIR, "walk": [0, 1, 12], "yes": [(1, 1, []), (1, 2, [0, 3])], "ranks": ([((0, 0), 1), ((0, 1), 0)], [(0, 1)])}
+GOOD = {"web": PAIR, "walk": [0, 1, 12], "yes": [(1, 1, []), (1, 2, [0, 3])],
+        "ranks": ([((0, 0), 1), ((0, 1), 0)], [(0, 1)])}
 WRITTEN = {"web": "(2 [(0 1) (1 0)])", "walk": "[0 1 12]", "yes": "[(1 1 []) (1 2 [0 3])]",
            "ranks": "([((0 0) 1) ((0 1) 0)] [(0 1)])"}
-WRONG_SORTS = ODD + NUMBERS + LISTS + ["", "a", "Web", "webs", "walk ", " walk", "all", ("web",), ["walk"], "no", "yes\n"]
+WRONG_SORTS = ODD + NUMBERS + LISTS + ["", "a", "Web", "webs", "walk ", " walk", "all", ("web",), ["walk"], "no",
+                                       "yes\n"]
 
 TOKEN = r"(?:0|[1-9][0-9]{0,29}|[a-z]+|-)"
 LIST = re.compile(rf"\[(?:{TOKEN}(?: {TOKEN})*)?\]|\((?:{TOKEN}(?: {TOKEN})*)?\)")
@@ -70,7 +72,8 @@ def examples():
             if plainly_sure(web, walk):
                 told += [("yes", yes_paper(web, walk)), ("ranks", rank_paper(web, walk))]
     told += [("walk", [HUGE]), ("walk", [0] * 400), ("yes", []), ("yes", [(HUGE, 0, [HUGE] * 60)]), ("ranks", ([], [])),
-             ("yes", [(0, 0, [])] * 400), ("ranks", ([((HUGE, 0), 0)], [(0, HUGE)])), ("ranks", ([((0, 0), 1)] * 400, [])),
+             ("yes", [(0, 0, [])] * 400), ("ranks", ([((HUGE, 0), 0)], [(0, HUGE)])),
+             ("ranks", ([((0, 0), 1)] * 400, [])),
              ("ranks", ([], [(3, 4)] * 400))]
     return told
 
@@ -91,7 +94,8 @@ class Sorts(unittest.TestCase):
         for sort, value, wanted in (
                 ("walk", [], False), ("walk", [0], True), ("walk", [0] * 400, True), ("walk", [0] * 401, False),
                 ("walk", [HUGE], True), ("walk", [HUGE + 1], False), ("yes", [(0, 0, [])] * 400, True),
-                ("yes", [(0, 0, [])] * 401, False), ("yes", [(0, 0, [0] * 60)], True), ("yes", [(0, 0, [0] * 61)], False),
+                ("yes", [(0, 0, [])] * 401, False), ("yes", [(0, 0, [0] * 60)], True),
+                ("yes", [(0, 0, [0] * 61)], False),
                 ("yes", [(0, HUGE + 1, [])], False), ("yes", [(0, 0, [HUGE + 1])], False), ("yes", [], True),
                 ("ranks", ([((0, 0), 0)] * 400, [(0, 0)] * 400), True), ("ranks", ([((0, 0), 0)] * 401, []), False),
                 ("ranks", ([], [(0, 0)] * 401), False), ("ranks", ([((0, HUGE + 1), 0)], []), False),
@@ -102,9 +106,12 @@ class Sorts(unittest.TestCase):
 
     def test_any_value(self):
         values = ODD + NUMBERS + STRINGS + LISTS + [
-            (0, 1, 2), [(1, 1)], [(1, 1, [], [])], [[1, 1, []]], [(1, 1, 0)], [([1], 1, [])], [(1, 1, [(0,)])], ([], [], []),
-            ([],), [[], []], ([((0, 0), 1)], [[0, 1]]), ([[(0, 0), 1]], []), ([([0, 0], 1)], []), ([((0, 0, 0), 1)], []),
-            ([((0, 0), 1, 1)], []), ([], [(0, 1, 2)]), ([((0, 0),)], []), (2, [(0, 1)]), "(1 [])", "[0 1]", {0: 1}, [[0, 1]]]
+            (0, 1, 2), [(1, 1)], [(1, 1, [], [])], [[1, 1, []]], [(1, 1, 0)], [([1], 1, [])], [(1, 1, [(0,)])],
+            ([], [], []),
+            ([],), [[], []], ([((0, 0), 1)], [[0, 1]]), ([[(0, 0), 1]], []), ([([0, 0], 1)], []),
+            ([((0, 0, 0), 1)], []),
+            ([((0, 0), 1, 1)], []), ([], [(0, 1, 2)]), ([((0, 0),)], []), (2, [(0, 1)]), "(1 [])", "[0 1]", {0: 1},
+            [[0, 1]]]
         for sort, value in GOOD.items():
             values += changed(value, [True, False, None, -1, "0", [], (), [0], (0,), HUGE + 1])
         for value in values:
@@ -114,7 +121,8 @@ class Sorts(unittest.TestCase):
                 self.assertIs(type(told), bool)
                 self.assertIs(is_of_sort(sort=sort, value=value), told)
                 if told:
-                    self.assertEqual(written(sort, value), plain_form(sort, value if sort == "web" else as_listed(sort, value)))
+                    self.assertEqual(written(sort, value), plain_form(sort,
+                        value if sort == "web" else as_listed(sort, value)))
                 else:
                     check_fails(self, InvalidThing, {"value": value}, written, sort, value)
             self.assertEqual(repr(value), shown)
@@ -123,9 +131,11 @@ class Sorts(unittest.TestCase):
         for sort, values in (
                 ("web", [(2, [(0, 1)]), [2, [(0, 1)]], "(1 [])", 0, []]),
                 ("walk", [{0: 1}, [[0]], [(0,)], "0", 0, [0, "1"]]),
-                ("yes", [[(1, 1)], [(1, 1, [], [])], [[1, 1, []]], [(1, 1, 0)], [([1], 1, [])], [(1, 1, [(0,)])], [(1, 1, {})],
+                ("yes", [[(1, 1)], [(1, 1, [], [])], [[1, 1, []]], [(1, 1, 0)], [([1], 1, [])], [(1, 1, [(0,)])],
+                         [(1, 1, {})],
                          [()], ((),), [(1, (1,), [])], {}, (1, 1, [])]),
-                ("ranks", [([],), ([], [], []), [[], []], ([], {}), ({}, []), ([((0, 0), 1)], [[0, 1]]), ([[(0, 0), 1]], []),
+                ("ranks", [([],), ([], [], []), [[], []], ([], {}), ({}, []), ([((0, 0), 1)], [[0, 1]]),
+                           ([[(0, 0), 1]], []),
                            ([([0, 0], 1)], []), ([((0, 0, 0), 1)], []), ([((0,), 1)], []), ([((0, 0), 1, 1)], []),
                            ([((0, 0),)], []), ([], [(0, 1, 2)]), ([], [(0,)]), ([], [0]), ([0], []), ([(0, 0)], []),
                            ([], [((0, 0), 1)]), (0, 0), []])):
@@ -165,7 +175,8 @@ class Written(unittest.TestCase):
                 self.assertEqual(repr(told), repr(value))
 
     def test_tuples_as_lists(self):
-        self.assertEqual([written("walk", (0, 1)), written("yes", ((1, 1, (0, 2)),)), written("ranks", ((((0, 0), 1),), ()))],
+        self.assertEqual([written("walk", (0, 1)), written("yes", ((1, 1, (0, 2)),)),
+                          written("ranks", ((((0, 0), 1),), ()))],
                          ["[0 1]", "[(1 1 [0 2])]", "([((0 0) 1)] [])"])
 
     def test_too_many_signs(self):
@@ -221,17 +232,22 @@ class Unread(unittest.TestCase):
 
     def test_positions(self):
         for text, position in (
-                ("", 0), (" ", 0), ("]", 0), ("[", 1), ("[ ", 1), ("[0", 2), ("[0 ", 3), ("[0  ", 3), ("[0 ]", 3), ("[0)", 2),
-                ("[00", 2), ("[01]", 2), ("00", 1), ("0 ", 1), ("[0]x", 3), ("[0] ", 3), ("[0a]", 2), ("[a0]", 2), ("[--]", 2),
+                ("", 0), (" ", 0), ("]", 0), ("[", 1), ("[ ", 1), ("[0", 2), ("[0 ", 3), ("[0  ", 3), ("[0 ]", 3),
+                ("[0)", 2),
+                ("[00", 2), ("[01]", 2), ("00", 1), ("0 ", 1), ("[0]x", 3), ("[0] ", 3), ("[0a]", 2), ("[a0]", 2),
+                ("[--]", 2),
                 ("[0,1]", 2), ("[A]", 1), ("[-1]", 2), ("[(0]", 3), ("[0", 2), ("(2 [(0 1)", 9), ("[1]\n", 3), ("+", 0),
-                ("{", 0), ("[{]", 1), ("[z{]", 2), ("`", 0), ("[/]", 1), ("[:]", 1), ("[9:]", 2), ("[()()]", 3), ("[0(", 2), ("a[", 1), ("-a", 1), ("[%", 1), ("[.", 1)):
+                ("{", 0), ("[{]", 1), ("[z{]", 2), ("`", 0), ("[/]", 1), ("[:]", 1), ("[9:]", 2), ("[()()]", 3),
+                ("[0(", 2), ("a[", 1), ("-a", 1), ("[%", 1), ("[.", 1)):
             for sort in SORTS:
                 check_fails(self, UnreadText, {"position": position}, read, sort, text)
 
     def test_written_but_of_another_sort(self):
-        texts = ["0", "a", "z", "[az]", "-", "[]", "()", "[[]]", "(0 1)", "[a]", "[-]", "[0 -]", "(0 [])", "(61 [])", "(2 [(0 2)])",
+        texts = ["0", "a", "z", "[az]", "-", "[]", "()", "[[]]", "(0 1)", "[a]", "[-]", "[0 -]", "(0 [])", "(61 [])",
+                 "(2 [(0 2)])",
                  "(2 ((0 1)))", "(2 [[0 1]])", "[2 []]", "(2 [] [])", "(1 1 [])", "[(1 1)]", "[(1 1 ())]", "([] ())",
-                 "(() [])", "(a [])", "([(0 1)] [])", "[" + "0 " * 400 + "0]", "[(0 0 [" + "0 " * 60 + "0])]", "[" * 16 + "]" * 16]
+                 "(() [])", "(a [])", "([(0 1)] [])", "[" + "0 " * 400 + "0]", "[(0 0 [" + "0 " * 60 + "0])]",
+                 "[" * 16 + "]" * 16]
         for text in texts:
             for sort in SORTS:
                 if (sort, text) != ("yes", "[]"):
@@ -245,7 +261,8 @@ class Unread(unittest.TestCase):
     def test_webs_in_bounds(self):
         self.assertEqual(read("web", "(60 [(59 59)])"), Web(60, [(59, 59)]))
         self.assertEqual(read("web", "(2 [" + " ".join(["(0 1)"] * 80) + "])").many, 80)
-        for text in ("(0 [])", "(61 [])", "(2 [" + " ".join(["(0 1)"] * 81) + "])", "(2 [(2 0)])", "(2 [(0 1 1)])", "(- [])"):
+        for text in ("(0 [])", "(61 [])", "(2 [" + " ".join(["(0 1)"] * 81) + "])", "(2 [(2 0)])", "(2 [(0 1 1)])",
+                     "(- [])"):
             check_fails(self, UnreadText, {"position": None}, read, "web", text)
 
     def test_thirty_digits(self):
@@ -266,7 +283,8 @@ class Unread(unittest.TestCase):
         check_fails(self, UnreadText, {"position": None}, read, "walk", "[" + "0 " * 3998 + "0]")
 
     def test_things_of_no_sort(self):
-        for text, thing in (("-", None), ("abz", "abz"), ("0", 0), ("190", 190), ("[a - (0 [])]", ["a", None, (0, [])]), ("()", ())):
+        for text, thing in (("-", None), ("abz", "abz"), ("0", 0), ("190", 190),
+                            ("[a - (0 [])]", ["a", None, (0, [])]), ("()", ())):
             self.assertEqual([reading_of(text), thing_written(thing)], [(None, thing), text])
 
     def test_no_string(self):

@@ -9,7 +9,8 @@ from suretexts.papers import rank_paper
 from tests.support import LISTS, NUMBERS, ODD, STRINGS, changed, check_fails, check_parameters
 from tests.test_desk import desk_with, held_by
 
-WORDS = ["certain p 1 bac", "doubtful p 1 bac", "sure p 1 0,2", "loose p 1 2,0", "sure p 1 2,0", "cheap p 1 4", "cheap p 1 3",
+WORDS = ["certain p 1 bac", "doubtful p 1 bac", "sure p 1 0,2", "loose p 1 2,0", "sure p 1 2,0", "cheap p 1 4",
+         "cheap p 1 3",
          "dear p 1 3", "close p 1", "parted p 1"]
 
 
@@ -72,7 +73,8 @@ class Attach(unittest.TestCase):
         self.assertIs(desk.fits("k"), True)
 
     def test_copied(self):
-        for words, paper in (("close p 1", [0, 2, 1, 3]), ("cheap p 1 4", [0, 2, 1, 3]), ("sure p 1 0,2", [(1, 1, [])])):
+        for words, paper in (("close p 1", [0, 2, 1, 3]), ("cheap p 1 4", [0, 2, 1, 3]),
+                             ("sure p 1 0,2", [(1, 1, [])])):
             desk = desk_with("read p size 2; read 1 abaca", f"claim k {words}")
             desk.attach("k", paper)
             if words.startswith("sure"):
@@ -83,7 +85,8 @@ class Attach(unittest.TestCase):
     def test_parameters(self):
         desk = desk_with("read p size 2; read 1 aba", "claim k close p 1")
         wrongs = ODD + NUMBERS + LISTS + ["", "p", "K", "kk", "close"]
-        check_parameters(self, desk.attach, [("label", "k", wrongs, UnknownLabel), ("paper", [0, 1], ODD + [[0]], InvalidPaper)])
+        check_parameters(self, desk.attach, [("label", "k", wrongs, UnknownLabel),
+                                             ("paper", [0, 1], ODD + [[0]], InvalidPaper)])
         for call in (desk.fits, desk.claim_of):
             check_parameters(self, call, [("label", "k", wrongs, UnknownLabel)])
 
@@ -121,7 +124,8 @@ class Fits(unittest.TestCase):
         check_fails(self, UnknownLabel, {"value": "k"}, desk.fits, "k")
         check_fails(self, UnknownLabel, {"value": "k"}, desk.attach, "k", [0, 2, 1, 3])
         # With other words, though it is a paper of this claim as well.
-        self.assertEqual([desk.do("claim k cheap p 1 5"), desk.fits("k"), is_paper_of(desk.claim_of("k"), [0, 2, 1, 3])],
+        self.assertEqual([desk.do("claim k cheap p 1 5"), desk.fits("k"),
+                          is_paper_of(desk.claim_of("k"), [0, 2, 1, 3])],
                          ["k true", False, True])
         self.assertEqual([desk.do("forget k"), desk.do("claim k cheap p 1 4"), desk.fits("k")], ["-", "k true", True])
         # With the contrary's words.
@@ -140,7 +144,8 @@ class Fits(unittest.TestCase):
         self.assertEqual(desk.do("undo"), "claim k close p 1")
         check_fails(self, UnknownLabel, {"value": "k"}, desk.fits, "k")
         self.assertEqual([desk.do("redo"), desk.fits("k")], ["claim k close p 1", True])
-        self.assertEqual([desk.do("undo"), desk.do("claim k parted p 1"), desk.fits("k")], ["claim k close p 1", "k false", False])
+        self.assertEqual([desk.do("undo"), desk.do("claim k parted p 1"), desk.fits("k")],
+                         ["claim k close p 1", "k false", False])
 
     def test_another_one_in_its_place(self):
         desk = attached("parted p 1", "add p 1 az")
@@ -153,7 +158,8 @@ class Fits(unittest.TestCase):
 
 
 class Trials(unittest.TestCase):
-    LINES = ["add p 1 x", "drop q", "claim m close p 1", "forget k", "undo", "lot r 5", "claim n dear p 1 1", "undo", "undo"]
+    LINES = ["add p 1 x", "drop q", "claim m close p 1", "forget k", "undo", "lot r 5", "claim n dear p 1 1", "undo",
+             "undo"]
 
     def desk(self):
         """A desk with a paper, and with a deed that can be done again."""
@@ -235,7 +241,8 @@ class Trials(unittest.TestCase):
         self.assertEqual(held_by(desk), held)
         self.assertEqual([tried(desk=desk, action=len), tried(desk, lambda one: None)], [len(desk), None])
         self.assertIs(tried(desk, lambda one: one), desk)
-        check_fails(self, NotRead, {"text": "zz"}, tried, desk, lambda one: one.do_all() + [one.do("drop q"), one.do("take p 1 zz")])
+        check_fails(self, NotRead, {"text": "zz"}, tried, desk,
+                    lambda one: one.do_all() + [one.do("drop q"), one.do("take p 1 zz")])
         self.assertEqual(held_by(desk), held)
 
     def test_two_desks(self):
